@@ -1,0 +1,1 @@
+"""Sentences of first order, their texts, derivations and finite worlds."""

@@ -1,0 +1,99 @@
+"""The checker of derivations: it compares written things alone."""
+
+from eithershown.errors import BadClauses
+from eithershown.fitting import is_any_clause
+from eithershown.inference import instance, replacement, resolvent, without_same
+from eithershown.kinds import bad_index, frozen, is_list
+from eithershown.rowforms import row_fits, told_row
+
+
+def check_clauses(clauses):
+    index = bad_index(clauses, is_any_clause)
+    if index is not None:
+        raise BadClauses(index)
+
+
+def are_alike(one, other):
+    """Whether two clauses have the same literals, in whatever order."""
+    for literal in one:
+        if literal not in other:
+            return False
+    for literal in other:
+        if literal not in one:
+            return False
+    return True
+
+
+def unequal_parts(one, other):
+    """The denials that the words of two words or atoms are one by one the same; None if they do not go together."""
+    if isinstance(one, str) or isinstance(other, str) or one[0] != other[0] or len(one) != len(other):
+        return None
+    return [(False, ("=", left, right)) for left, right in zip(one[1:], other[1:])]
+
+
+def of_premises(rule, clauses, spot):
+    """What a rule tells of its premises' clauses; None if nothing."""
+    if rule == "resolve":
+        return resolvent(clauses[0], clauses[1], spot)
+    if rule == "replace":
+        return replacement(clauses[0], clauses[1], spot[0], spot[1], spot[2], spot[3])
+    if rule == "same":
+        return without_same(clauses[0], spot)
+    return clauses[0]
+
+
+def of_nothing(rule, spot):
+    """What a rule without premises tells; None if nothing."""
+    if rule == "alike":
+        return [(True, ("=", spot, spot))]
+    if rule == "either":
+        return [(True, spot), (False, spot)]
+    if rule == "turned":
+        return [(False, ("=", spot[0], spot[1])), (True, ("=", spot[1], spot[0]))]
+    if rule == "chained":
+        return [(False, ("=", spot[0], spot[1])), (False, ("=", spot[1], spot[2])), (True, ("=", spot[0], spot[2]))]
+    told = unequal_parts(spot[0], spot[1])
+    if told is None or (rule == "holds" and spot[0][0] == "="):
+        return None
+    if rule == "parts":
+        return told + [(True, ("=", spot[0], spot[1]))]
+    return told + [(False, spot[0]), (True, spot[1])]
+
+
+def row_fault(clauses, ahead, row):
+    """What is wrong with a row behind the clauses of the rows ahead; None if it is right."""
+    if not row_fits(row):
+        return "form"
+    rule, premises, substitutions, spot, clause = told_row(row)
+    sources = clauses if rule == "given" else ahead
+    for premise in premises:
+        if premise >= len(sources):
+            return "ahead"
+    if rule == "given":
+        told = sources[premises[0]]
+    elif len(premises) == 0:
+        told = of_nothing(rule, spot)
+    else:
+        instances = [instance(sources[premise], words) for premise, words in zip(premises, substitutions)]
+        told = of_premises(rule, instances, spot)
+    if told is None:
+        return "spot"
+    return None if are_alike(told, clause) else "clause"
+
+
+def derivation_fault(clauses, thing):
+    check_clauses(clauses)
+    if not is_list(thing):
+        return ("form",)
+    given = [frozen(clause) for clause in clauses]
+    ahead = []
+    for index, row in enumerate(thing):
+        why = row_fault(given, ahead, row)
+        if why is not None:
+            return (index, why)
+        ahead.append(frozen(row[4]))
+    return None
+
+
+def is_refutation(clauses, thing):
+    return derivation_fault(clauses, thing) is None and len(thing) > 0 and len(thing[-1][4]) == 0

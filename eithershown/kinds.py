@@ -1,0 +1,102 @@
+"""Which objects are integers, names, variables and lists of things."""
+
+LETTERS = "abcdefghijklmnopqrstuvwxyz"
+CAPITALS = "ABCDEFGHIJKLMNOPQRSTUVWXYZ"
+FIGURES = "0123456789"
+LONGEST = 8
+MOST_PLACES = 6
+KEPT = (
+    "all", "some", "not", "and", "or", "then", "iff", "false", "axiom", "goal", "function", "predicate", "things",
+    "is", "by", "on", "of", "put", "for", "in", "at", "into", "given", "instance", "resolve", "replace", "same",
+    "alike", "either", "turned", "chained", "parts", "holds", "class", "fact", "cell", "clash", "size", "follows",
+    "fails", "open", "watch", "hold",
+)
+
+
+def is_integer(thing):
+    return isinstance(thing, int) and not isinstance(thing, bool)
+
+
+def is_number(thing):
+    return is_integer(thing) and thing >= 0
+
+
+def is_arity(thing):
+    return is_number(thing) and thing <= MOST_PLACES
+
+
+def is_list(thing):
+    """Lists may be passed for tuples, tuples for lists: both count as lists."""
+    return isinstance(thing, (list, tuple))
+
+
+def is_pair(thing):
+    return is_list(thing) and len(thing) == 2
+
+
+def is_spelled(thing, first, later):
+    """Whether it is a string of at most eight signs, the first one of some signs, all others of later ones."""
+    if not isinstance(thing, str) or not 1 <= len(thing) <= LONGEST or thing[0] not in first:
+        return False
+    for sign in thing[1:]:
+        if sign not in later:
+            return False
+    return True
+
+
+def is_name(thing):
+    return is_spelled(thing, LETTERS, LETTERS + FIGURES) and thing not in KEPT
+
+
+def is_variable(thing):
+    return is_spelled(thing, CAPITALS, FIGURES)
+
+
+def bad_index(things, is_right):
+    """The index of the first thing that is not right, 0 for no list, None if all are right."""
+    if not is_list(things):
+        return 0
+    for index, thing in enumerate(things):
+        if not is_right(thing):
+            return index
+    return None
+
+
+def bad_pair(things, barred, is_right):
+    """The index of the first thing that is no pair of a name, not barred, that did not stand before, and of a right
+    thing; 0 for no list, None if all are such pairs."""
+    if not is_list(things):
+        return 0
+    stood = list(barred)
+    for index, thing in enumerate(things):
+        if not is_pair(thing) or not is_name(thing[0]) or thing[0] in stood or not is_right(thing[1]):
+            return index
+        stood.append(thing[0])
+    return None
+
+
+def frozen(thing):
+    """The thing with tuples for lists at every depth; by a list of what is begun, as calls may not go so deep."""
+    if not is_list(thing):
+        return thing
+    begun = [(thing, [])]
+    while True:
+        whole, done = begun[-1]
+        if len(done) == len(whole):
+            begun.pop()
+            if not begun:
+                return tuple(done)
+            begun[-1][1].append(tuple(done))
+        elif is_list(whole[len(done)]):
+            begun.append((whole[len(done)], []))
+        else:
+            done.append(whole[len(done)])
+
+
+def unlike(things):
+    """The things in their order, like ones once."""
+    told = []
+    for thing in things:
+        if thing not in told:
+            told.append(thing)
+    return told

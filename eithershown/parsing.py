@@ -1,0 +1,142 @@
+"""Words, atoms, literals, clauses and sentences by Names, read from a Reader.
+
+What is still to do stands in a list, as texts may nest deeper than calls. scope is a tuple of the variables that may
+stand, None where each one may.
+"""
+
+from eithershown.kinds import CAPITALS, unlike
+
+JOINTS = (" and ", " or ", " then ", " iff ")
+
+
+class Parser:
+    """What is to do next, last in the list first, and the values that are read."""
+
+    def __init__(self, reader, names):
+        self.reader = reader
+        self.function_places = dict(names.functions())
+        self.predicate_places = dict(names.predicates())
+        self.work = []
+        self.values = []
+
+    def word(self):
+        return self.run("word", None)
+
+    def atom(self):
+        return self.run("atom", None)
+
+    def literal(self):
+        return self.run("literal", None)
+
+    def sentence(self):
+        """A closed sentence."""
+        return self.run("sentence", ())
+
+    def clause(self):
+        """A clause and the line feed behind it."""
+        token = self.take_token(["false", "not "] + self.atom_starts(None), None)
+        if token == "false":
+            self.reader.expect("\n")
+            return []
+        self.go_on_literal(token)
+        literals = [self.finish()]
+        while self.reader.choose([" or ", "\n"]) == " or ":
+            literals.append(self.literal())
+        return unlike(literals)
+
+    def run(self, kind, scope):
+        self.work.append((kind, scope))
+        return self.finish()
+
+    def finish(self):
+        while self.work:
+            kind, told = self.work.pop()
+            if kind == "sentence":
+                self.begin_sentence(told)
+            elif kind == "literal":
+                self.go_on_literal(self.take_token(["not "] + self.atom_starts(None), None))
+            elif kind == "atom":
+                self.go_on_atom(self.take_token(self.atom_starts(told), told), told)
+            elif kind == "word":
+                self.go_on_word(self.take_token(self.word_starts(told), told), told)
+            elif kind == "signs":
+                self.reader.expect(told)
+            elif kind == "joint":
+                self.values.append(self.reader.choose(list(JOINTS)).strip())
+            elif kind == "turn":
+                self.values[-2:] = [self.values[-1], self.values[-2]]
+            else:
+                self.values[-told:] = [tuple(self.values[-told:])]
+        return self.values.pop()
+
+    def named(self, places, is_open):
+        """The names that stand alone, or those that stand ahead of words in parentheses."""
+        if is_open:
+            return [name + "(" for name in places if places[name] > 0]
+        return [name for name in places if places[name] == 0]
+
+    def word_starts(self, scope):
+        """How a word can begin; where none could be ended no name is followed by words."""
+        ended = self.ended_words(scope)
+        return ended + (self.named(self.function_places, True) if scope is None or ended else [])
+
+    def ended_words(self, scope):
+        return list(scope or ())[::-1] + self.named(self.function_places, False)
+
+    def atom_starts(self, scope):
+        flat = self.named(self.predicate_places, False)
+        if scope is None or self.ended_words(scope):
+            return flat + self.word_starts(scope) + self.named(self.predicate_places, True)
+        return flat
+
+    def take_token(self, options, scope):
+        if scope is None and self.reader.at_one_of(CAPITALS):
+            return self.reader.take_variable([])
+        return self.reader.choose(options)
+
+    def begin_sentence(self, scope):
+        token = self.reader.choose(self.atom_starts(scope) + ["all ", "some ", "not ", "("])
+        if token == "(":
+            self.work.extend([("close", 3), ("signs", ")"), ("sentence", scope), ("turn", None), ("joint", None),
+                              ("sentence", scope)])
+        elif token == "not ":
+            self.values.append("not")
+            self.work.extend([("close", 2), ("sentence", scope)])
+        elif token in ("all ", "some "):
+            variable = self.reader.take_variable([])
+            self.reader.expect(": ")
+            self.values.extend([token.strip(), variable])
+            self.work.extend([("close", 3), ("sentence", scope + (variable,))])
+        else:
+            self.go_on_atom(token, scope)
+
+    def go_on_literal(self, token):
+        self.work.append(("close", 2))
+        self.values.append(token != "not ")
+        if token == "not ":
+            self.work.append(("atom", None))
+        else:
+            self.go_on_atom(token, None)
+
+    def go_on_atom(self, token, scope):
+        if token.rstrip("(") in self.predicate_places:
+            self.go_on_name(token, self.predicate_places, scope)
+        else:
+            self.values.append("=")
+            self.work.extend([("close", 3), ("word", scope), ("signs", " = ")])
+            self.go_on_word(token, scope)
+
+    def go_on_word(self, token, scope):
+        if token[0] in CAPITALS:
+            self.values.append(token)
+        else:
+            self.go_on_name(token, self.function_places, scope)
+
+    def go_on_name(self, token, places, scope):
+        name = token.rstrip("(")
+        if name == token:
+            self.values.append((name,))
+        else:
+            self.values.append(name)
+            self.work.extend([("close", places[name] + 1), ("signs", ")")])
+            self.work.extend([("word", scope), ("signs", ", ")] * (places[name] - 1) + [("word", scope)])
