@@ -39,10 +39,9 @@ def is_told_table(many, thing):
 
 def are_told_rows(many, thing):
     """Whether it is a list of rows of some number of places."""
-    if not is_list(thing):
-        return False
-    lengths = [len(row) for row in thing if is_list(row)]
-    return lengths == [] or (lengths[0] <= MOST_PLACES and are_rows(many, lengths[0], thing))
+    if not is_list(thing) or len(thing) == 0:
+        return is_list(thing)
+    return is_list(thing[0]) and len(thing[0]) <= MOST_PLACES and are_rows(many, len(thing[0]), thing)
 
 
 def is_told_world(thing):

@@ -10,14 +10,14 @@ JOINTS = (" and ", " or ", " then ", " iff ")
 
 
 class Parser:
-    """What is to do next, last in the list first, and the values that are read."""
+    """What is to do next, last in the list first, and what is read."""
 
     def __init__(self, reader, names):
         self.reader = reader
         self.function_places = dict(names.functions())
         self.predicate_places = dict(names.predicates())
         self.work = []
-        self.values = []
+        self.built = []
 
     def word(self):
         return self.run("word", None)
@@ -62,12 +62,12 @@ class Parser:
             elif kind == "signs":
                 self.reader.expect(told)
             elif kind == "joint":
-                self.values.append(self.reader.choose(list(JOINTS)).strip())
+                self.built.append(self.reader.choose(list(JOINTS)).strip())
             elif kind == "turn":
-                self.values[-2:] = [self.values[-1], self.values[-2]]
+                self.built[-2:] = [self.built[-1], self.built[-2]]
             else:
-                self.values[-told:] = [tuple(self.values[-told:])]
-        return self.values.pop()
+                self.built[-told:] = [tuple(self.built[-told:])]
+        return self.built.pop()
 
     def named(self, places, is_open):
         """The names that stand alone, or those that stand ahead of words in parentheses."""
@@ -100,19 +100,19 @@ class Parser:
             self.work.extend([("close", 3), ("signs", ")"), ("sentence", scope), ("turn", None), ("joint", None),
                               ("sentence", scope)])
         elif token == "not ":
-            self.values.append("not")
+            self.built.append("not")
             self.work.extend([("close", 2), ("sentence", scope)])
         elif token in ("all ", "some "):
             variable = self.reader.take_variable([])
             self.reader.expect(": ")
-            self.values.extend([token.strip(), variable])
+            self.built.extend([token.strip(), variable])
             self.work.extend([("close", 3), ("sentence", scope + (variable,))])
         else:
             self.go_on_atom(token, scope)
 
     def go_on_literal(self, token):
         self.work.append(("close", 2))
-        self.values.append(token != "not ")
+        self.built.append(token != "not ")
         if token == "not ":
             self.work.append(("atom", None))
         else:
@@ -122,21 +122,21 @@ class Parser:
         if token.rstrip("(") in self.predicate_places:
             self.go_on_name(token, self.predicate_places, scope)
         else:
-            self.values.append("=")
+            self.built.append("=")
             self.work.extend([("close", 3), ("word", scope), ("signs", " = ")])
             self.go_on_word(token, scope)
 
     def go_on_word(self, token, scope):
         if token[0] in CAPITALS:
-            self.values.append(token)
+            self.built.append(token)
         else:
             self.go_on_name(token, self.function_places, scope)
 
     def go_on_name(self, token, places, scope):
         name = token.rstrip("(")
         if name == token:
-            self.values.append((name,))
+            self.built.append((name,))
         else:
-            self.values.append(name)
+            self.built.append(name)
             self.work.extend([("close", places[name] + 1), ("signs", ")")])
             self.work.extend([("word", scope), ("signs", ", ")] * (places[name] - 1) + [("word", scope)])

@@ -166,6 +166,18 @@ class LanguageTests(unittest.TestCase):
                     if isinstance(node, ast.Attribute) and isinstance(node.ctx, ast.Store):
                         self.assertNotIn(node.attr, methods, (path, group.name))
 
+    def test_attributes_are_no_methods_of_builtin_values(self):
+        free = {"count", "index", "title", "find", "get", "join", "lower", "upper", "split", "strip", "copy", "add"}
+        barred = {name for made in (str, int, list, dict, set, bytes, tuple) for name in dir(made)} - free
+        for path, text, tree in self.each():
+            for node in ast.walk(tree):
+                if isinstance(node, ast.Attribute) and isinstance(node.ctx, ast.Store):
+                    self.assertNotIn(node.attr, barred | {"args", "elements", "open", "input"}, (path, node.lineno))
+                if isinstance(node, ast.ClassDef):
+                    for part in node.body:
+                        if isinstance(part, ast.FunctionDef) and not part.name.startswith("__"):
+                            self.assertNotIn(part.name, barred | BARRED, (path, part.lineno))
+
     def test_views_are_iterated_at_once(self):
         views = {"zip", "enumerate", "reversed", "range"}
         homes = {"list", "tuple", "dict", "sorted", "sum", "any", "all", "enumerate", "zip", "min", "max", "reversed",

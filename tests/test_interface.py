@@ -1,0 +1,74 @@
+"""Each function and class of the interface that has landed stands in its file, with its names of parameters."""
+
+import ast
+import importlib
+import inspect
+import pathlib
+import unittest
+
+ROOT = pathlib.Path(__file__).resolve().parent.parent / "eithershown"
+FUNCTIONS = {
+    "grammar": ["is_word(names, thing)", "is_sentence(names, thing)", "is_closed(names, thing)",
+                "is_clause(names, thing)"],
+    "sentencetexts": ["sentence_text(sentence)", "read_sentence(names, text)", "sentence_fault(names, text)",
+                      "sentence_goes_on(names, text)"],
+    "theorytexts": ["theory_text(theory)", "read_theory(text)", "theory_fault(text)", "problem_text(problem)",
+                    "read_problem(text)", "problem_fault(text)"],
+    "clausetexts": ["clauses_text(clauses)", "read_clauses(names, text)", "clauses_fault(names, text)"],
+    "worldtexts": ["world_text(names, world)", "read_world(names, text)", "world_text_fault(names, text)"],
+    "papertexts": ["derivation_text(derivation)", "read_derivation(names, text)",
+                   "derivation_text_fault(names, text)", "answer_text(answer)", "read_answer(names, text)",
+                   "answer_fault(names, text)"],
+    "worlds": ["all_rows(many, arity)", "world_fault(names, thing)", "forgotten(world, names)",
+               "grown(world, functions, predicates)"],
+    "meaning": ["value(world, word, giving)", "truth(world, sentence, giving)", "holds(world, sentence)",
+                "first_false(world, theory)", "false_giving(world, clause)"],
+    "binding": ["free_in(sentence)", "same_but_names(one, other)", "names_apart(sentence)",
+                "substituted(sentence, words)"],
+    "normal": ["plain(sentence)", "inward(sentence)", "normal(sentence)", "denied(sentence)"],
+    "words": ["places(word)", "word_at(word, place)", "word_put(word, place, part)", "depth(word)",
+              "variables_of(word)"],
+    "puts": ["put(word, substitution)", "behind(first, later)", "match(pattern, word)", "match_fault(pattern, word)"],
+    "steps": ["instance_of(clause, substitution)", "literal_at(literal, place)", "literal_with(literal, place, word)",
+              "resolved(one, other, atom)", "replaced(one, other, left, right, literal, place)",
+              "same_gone(clause, word)"],
+    "checking": ["derivation_fault(clauses, thing)", "is_refutation(clauses, thing)"],
+}
+CLASSES = {
+    "signatures": {"Names(functions, predicates)": ["functions()", "predicates()", "__eq__(other)"]},
+    "theories": {"Theory(names, axioms)": ["names()", "axioms()", "__eq__(other)"],
+                 "Problem(theory, goal)": ["theory()", "goal()", "__eq__(other)"]},
+}
+
+
+class InterfaceTests(unittest.TestCase):
+    def defined(self, module):
+        return ast.parse((ROOT / (module + ".py")).read_text()).body
+
+    def test_functions(self):
+        for module, rows in FUNCTIONS.items():
+            told = importlib.import_module("eithershown." + module)
+            here = [node.name for node in self.defined(module) if isinstance(node, ast.FunctionDef)]
+            for row in rows:
+                name = row.partition("(")[0]
+                self.assertIn(name, here, module)
+                self.assertEqual(name + str(inspect.signature(getattr(told, name))), row)
+
+    def test_classes(self):
+        for module, groups in CLASSES.items():
+            told = importlib.import_module("eithershown." + module)
+            here = [node.name for node in self.defined(module) if isinstance(node, ast.ClassDef)]
+            for row, methods in groups.items():
+                name = row.partition("(")[0]
+                self.assertIn(name, here, module)
+                made = getattr(told, name)
+                self.assertEqual(name + str(inspect.signature(made)), row)
+                for method in methods:
+                    word = method.partition("(")[0]
+                    self.assertIn(word, vars(made))
+                    parameters = list(inspect.signature(vars(made)[word]).parameters)[1:]
+                    self.assertEqual(f"{word}({', '.join(parameters)})", method)
+
+
+if __name__ == "__main__":
+    unittest.main()
