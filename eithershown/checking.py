@@ -61,10 +61,8 @@ def of_nothing(rule, spot):
 
 
 def row_fault(clauses, ahead, row):
-    """What is wrong with a row behind the clauses of the rows ahead; None if it is right."""
-    if not row_fits(row):
-        return "form"
-    rule, premises, substitutions, spot, clause = told_row(row)
+    """What is wrong with a row of right form behind the clauses of the rows ahead; None if it is right."""
+    rule, premises, substitutions, spot, clause = row
     sources = clauses if rule == "given" else ahead
     for premise in premises:
         if premise >= len(sources):
@@ -88,10 +86,13 @@ def derivation_fault(clauses, thing):
     given = [frozen(clause) for clause in clauses]
     ahead = []
     for index, row in enumerate(thing):
-        why = row_fault(given, ahead, row)
+        if not row_fits(row):
+            return (index, "form")
+        told = told_row(row)
+        why = row_fault(given, ahead, told)
         if why is not None:
             return (index, why)
-        ahead.append(frozen(row[4]))
+        ahead.append(told[4])
     return None
 
 

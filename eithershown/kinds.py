@@ -3,6 +3,7 @@
 LETTERS = "abcdefghijklmnopqrstuvwxyz"
 CAPITALS = "ABCDEFGHIJKLMNOPQRSTUVWXYZ"
 FIGURES = "0123456789"
+NAME_SIGNS = "abcdefghijklmnopqrstuvwxyz0123456789"
 LONGEST = 8
 MOST_PLACES = 6
 KEPT = (
@@ -45,7 +46,7 @@ def is_spelled(thing, first, later):
 
 
 def is_name(thing):
-    return is_spelled(thing, LETTERS, LETTERS + FIGURES) and thing not in KEPT
+    return is_spelled(thing, LETTERS, NAME_SIGNS) and thing not in KEPT
 
 
 def is_variable(thing):
@@ -75,9 +76,21 @@ def bad_pair(things, barred, is_right):
     return None
 
 
+def has_lists(thing):
+    """Whether a list stands in it, at whatever depth of tuples."""
+    work = [thing]
+    while work:
+        part = work.pop()
+        if isinstance(part, list):
+            return True
+        if isinstance(part, tuple):
+            work.extend(part)
+    return False
+
+
 def frozen(thing):
     """The thing with tuples for lists at every depth; by a list of what is begun, as calls may not go so deep."""
-    if not is_list(thing):
+    if not has_lists(thing):
         return thing
     begun = [(thing, [])]
     while True:

@@ -1,7 +1,7 @@
 """A text that is read sign by sign, so that its first wrong sign is found where it stands."""
 
 from eithershown.errors import BadText
-from eithershown.kinds import CAPITALS, FIGURES, KEPT, LETTERS, LONGEST
+from eithershown.kinds import CAPITALS, FIGURES, KEPT, LETTERS, LONGEST, NAME_SIGNS
 
 MOST_FIGURES = 9
 
@@ -99,7 +99,7 @@ class Reader:
 
     def take_name(self, taken):
         kept = [word for word in KEPT if len(word) <= LONGEST]
-        return self.take_spelled(LETTERS, LETTERS + FIGURES, kept + taken)
+        return self.take_spelled(LETTERS, NAME_SIGNS, kept + taken)
 
     def take_variable(self, taken):
         return self.take_spelled(CAPITALS, FIGURES, taken)
