@@ -4,7 +4,7 @@ from eithershown.errors import BadClauses
 from eithershown.fitting import is_any_clause
 from eithershown.inference import instance, replacement, resolvent, without_same
 from eithershown.kinds import bad_index, frozen, is_list
-from eithershown.rowforms import row_fits, told_row
+from eithershown.rowforms import frozen_row, row_fits
 
 
 def check_clauses(clauses):
@@ -88,7 +88,7 @@ def derivation_fault(clauses, thing):
     for index, row in enumerate(thing):
         if not row_fits(row):
             return (index, "form")
-        told = told_row(row)
+        told = frozen_row(row)
         why = row_fault(given, ahead, told)
         if why is not None:
             return (index, why)

@@ -9,6 +9,16 @@ from eithershown.kinds import CAPITALS, unlike
 JOINTS = (" and ", " or ", " then ", " iff ")
 
 
+def flat_starts(places):
+    """The names that stand alone."""
+    return [name for name in places if places[name] == 0]
+
+
+def open_starts(places):
+    """The names that stand ahead of words, with the sign between."""
+    return [name + "(" for name in places if places[name] > 0]
+
+
 class Parser:
     """What is to do next, last in the list first, and what is read."""
 
@@ -16,14 +26,15 @@ class Parser:
         self.reader = reader
         self.function_places = dict(names.functions())
         self.predicate_places = dict(names.predicates())
+        self.constants = flat_starts(self.function_places)
+        self.functions_ahead = open_starts(self.function_places)
+        self.flat_predicates = flat_starts(self.predicate_places)
+        self.predicates_ahead = open_starts(self.predicate_places)
         self.work = []
         self.built = []
 
     def word(self):
         return self.run("word", None)
-
-    def atom(self):
-        return self.run("atom", None)
 
     def literal(self):
         return self.run("literal", None)
@@ -49,6 +60,7 @@ class Parser:
         return self.finish()
 
     def finish(self):
+        """Does all that is to do; each thing done may put more ahead of what is left."""
         while self.work:
             kind, told = self.work.pop()
             if kind == "sentence":
@@ -69,25 +81,18 @@ class Parser:
                 self.built[-told:] = [tuple(self.built[-told:])]
         return self.built.pop()
 
-    def named(self, places, is_open):
-        """The names that stand alone, or those that stand ahead of words in parentheses."""
-        if is_open:
-            return [name + "(" for name in places if places[name] > 0]
-        return [name for name in places if places[name] == 0]
-
     def word_starts(self, scope):
         """How a word can begin; where none could be ended no name is followed by words."""
         ended = self.ended_words(scope)
-        return ended + (self.named(self.function_places, True) if scope is None or ended else [])
+        return ended + (self.functions_ahead if scope is None or ended else [])
 
     def ended_words(self, scope):
-        return list(scope or ())[::-1] + self.named(self.function_places, False)
+        return list(scope or ())[::-1] + self.constants
 
     def atom_starts(self, scope):
-        flat = self.named(self.predicate_places, False)
         if scope is None or self.ended_words(scope):
-            return flat + self.word_starts(scope) + self.named(self.predicate_places, True)
-        return flat
+            return self.flat_predicates + self.word_starts(scope) + self.predicates_ahead
+        return self.flat_predicates
 
     def take_token(self, options, scope):
         if scope is None and self.reader.at_one_of(CAPITALS):

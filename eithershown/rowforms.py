@@ -64,11 +64,7 @@ def row_fits(thing):
     return spot_fits(SPOTS[rule], spot) and is_any_clause(clause)
 
 
-def told_row(row):
-    """The row, all new, as it is told."""
+def frozen_row(row):
+    """The row with tuples for lists in its words and literals."""
     rule, premises, substitutions, spot, clause = row
-    told = frozen(spot)
-    if rule == "replace":
-        told = told[:3] + (list(told[3]),)
-    return (rule, list(premises), [frozen_substitution(part) for part in substitutions], told,
-            [frozen(literal) for literal in clause])
+    return rule, premises, [frozen_substitution(part) for part in substitutions], frozen(spot), frozen(clause)

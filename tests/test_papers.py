@@ -100,7 +100,7 @@ class DerivationTextTests(unittest.TestCase):
         for text, fault in (("given 3", (1, 8)), ("given 3:false\n", (1, 9)), ("given 03", (1, 8)), ("given -1", (1, 7)),
                             ("given 1234567890", (1, 16)), ("given 3 by", (1, 8)), ("given 3: false", (1, 15)),
                             ("given 3: false\n\n", (2, 1)), ("given 3: false\nxyz", (2, 1)), ("resume", (1, 4)), ("replace 1:", (1, 10)),
-                            ("resolve 1 on", (1, 11)), ("resolve 1 by X = c on", (1, 19)), ("resolve 1 by X = c, X", (1, 22)),
+                            ("resolve 1 on", (1, 11)), ("resolve 1, X", (1, 12)), ("replace 1, X = c", (1, 12)), ("resolve 1 by X = c on", (1, 19)), ("resolve 1 by X = c, X", (1, 22)),
                             ("resolve 1 by X = c, X =", (1, 22)), ("resolve 1 by X = c, X1 = c, 2 by X = c, 3", (1, 41)),
                             ("instance 1 by : ", (1, 15)), ("instance 1 by X = c, : ", (1, 22)), ("instance 1 by A1234567 = c, A1234567", (1, 36)),
                             ("instance 1 by X = p(c)", (1, 19)), ("instance 1 by X = e", (1, 19)), ("same 1 of p", (1, 11)),
@@ -158,6 +158,14 @@ class AnswerTextTests(unittest.TestCase):
         mixed = "fails 7\nthings 2\np 0\nf 1 is 0\nc is 0\nf 0 is 1\n"
         self.assertEqual(kinds(read_answer(E_NAMES, mixed)), kinds(("fails", 7, E)))
 
+    def test_worlds_at_the_limits(self):
+        row = (0,) * 6
+        for world in ((1, {"f": {row: 0}}, {"p": [row]}), (9, {"c": {(): 8}}, {"p": [(8, 8)], "q": []}), (9, {}, {})):
+            text = answer_text(("fails", 999999999, world))
+            names = Names([(name, len(list(world[1][name])[0])) for name in world[1]],
+                          [(name, len((world[2][name] + [()])[0])) for name in world[2]])
+            self.assertEqual(read_answer(names, text), ("fails", 999999999, world))
+
     def test_open(self):
         self.assertEqual(answer_text(OPEN), OPEN_TEXT)
         self.assertEqual(answer_text(as_lists(OPEN)), OPEN_TEXT)
@@ -172,6 +180,11 @@ class AnswerTextTests(unittest.TestCase):
         text = "open 0 1\nsize 1\nclash 0 by X2 = 1, X = 3, A = 0\n"
         self.assertEqual(list(read_answer(NAMES, text)[4][0][2]), ["A", "X", "X2"])
         self.assertEqual(answer_text(read_answer(NAMES, text)), "open 0 1\nsize 1\nclash 0 by A = 0, X = 3, X2 = 1\n")
+
+    def test_six_places(self):
+        names = Names([("f", 6)], [("p", 6)])
+        answer = ("open", 0, 1, ([], [("p", [5] * 6)]), [("cell", "f", [0] * 6, [])])
+        self.assertEqual(read_answer(names, answer_text(answer)), answer)
 
     def test_there_and_back(self):
         chance = random.Random(18)
@@ -223,7 +236,7 @@ class AnswerTextTests(unittest.TestCase):
     def test_wrong_papers(self):
         many, functions, predicates = E
         worlds = [None, (), (0, functions, predicates), (10, {}, {}), (True, {}, {}), (2, None, {}), (2, {}, None), (2, {}, []),
-                  (2, {"c": {(): 2}}, {}), (2, {"c": {}}, {}), (2, {"C": {(): 0}}, {}), (2, {"c": {(): 0}}, {"c": []}),
+                  (2, {"c": {(): 2}}, {}), (2, {"c": {}}, {}), (2, {"c": None}, {}), (2, {"c": []}, {}), (2, {"C": {(): 0}}, {}), (2, {"c": {(): 0}}, {"c": []}),
                   (2, {"f": {(0,): 0}}, {}), (2, {"f": {(0,): 0, (1, 1): 0}}, {}), (2, {}, {"p": [(2,)]}), (2, {}, {"p": [(0,), (0, 0)]}),
                   (2, {}, {"p": [(0,), (0,)]}), (2, {}, {"p": None}), (2, {}, {"not": []}), (2, {}, {"p": [(0,) * 7]}),
                   (1, {"f": {(0,) * 7: 0}}, {}), (2, {"f": {0: 0, 1: 1}}, {}), (2, {}, {"p": [0]}), (2, {5: {(): 0}}, {})]
