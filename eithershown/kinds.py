@@ -35,22 +35,17 @@ def is_pair(thing):
     return is_list(thing) and len(thing) == 2
 
 
-def is_spelled(thing, first, later):
-    """Whether it is a string of at most eight signs, the first one of some signs, all others of later ones."""
-    if not isinstance(thing, str) or not 1 <= len(thing) <= LONGEST or thing[0] not in first:
-        return False
-    for sign in thing[1:]:
-        if sign not in later:
-            return False
-    return True
+def is_spelled(thing):
+    """Whether it is a string of at most eight signs, all of them letters and figures of the plain kind."""
+    return isinstance(thing, str) and len(thing) <= LONGEST and thing.isalnum() and thing.isascii()
 
 
 def is_name(thing):
-    return is_spelled(thing, LETTERS, NAME_SIGNS) and thing not in KEPT
+    return is_spelled(thing) and thing.islower() and thing[0] in LETTERS and thing not in KEPT
 
 
 def is_variable(thing):
-    return is_spelled(thing, CAPITALS, FIGURES)
+    return is_spelled(thing) and thing[0] in CAPITALS and (len(thing) == 1 or thing[1:].isdigit())
 
 
 def bad_index(things, is_right):

@@ -33,11 +33,24 @@ FUNCTIONS = {
               "resolved(one, other, atom)", "replaced(one, other, left, right, literal, place)",
               "same_gone(clause, word)"],
     "checking": ["derivation_fault(clauses, thing)", "is_refutation(clauses, thing)"],
+    "shapes": ["turned(world, turn)", "turn_between(one, other)", "telling(names, world)"],
+    "listing": ["count_worlds(names, many)", "world_at(names, many, number)", "world_number(names, world)",
+                "count_shapes(names, many)", "first_shape(names, world)"],
+    "trimming": ["trimmed(literals)", "told_clause(literals)"],
+    "naming": ["sides_named(sentence, taken)"],
+    "witnesses": ["witnessed(sentence, taken)"],
+    "spreading": ["spread(sentence, taken)", "size_of(sentence)"],
+    "clauseforms": ["problem_form(problem)"],
+    "unifying": ["unify(pairs)", "unify_paper(pairs)", "is_unify_paper(pairs, thing)"],
+    "orders": ["compare(order, one, other)"],
 }
 CLASSES = {
     "signatures": {"Names(functions, predicates)": ["functions()", "predicates()", "__eq__(other)"]},
     "theories": {"Theory(names, axioms)": ["names()", "axioms()", "__eq__(other)"],
                  "Problem(theory, goal)": ["theory()", "goal()", "__eq__(other)"]},
+    "clauseforms": {"Form(theory, goal)": ["clauses()", "rows()", "names()", "with_tables(world)",
+                                           "without_tables(world)", "bound()", "__eq__(other)"]},
+    "orders": {"Order(rows)": ["rows()", "__eq__(other)"]},
 }
 
 

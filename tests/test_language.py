@@ -15,7 +15,7 @@ ALLOWED_BUILTINS = set(
 METHODS = set(
     "append clear copy count endswith extend find get index insert isalnum isalpha isdigit islower isspace isupper "
     "items join keys ljust lower lstrip partition pop remove replace reverse rfind rjust rpartition rsplit rstrip "
-    "setdefault split splitlines startswith strip update upper values zfill bit_length add discard".split())
+    "setdefault split splitlines startswith strip update upper values zfill bit_length add discard isascii".split())
 BARRED = set(
     "register mro elements open input law version_info with_traceback add_note attrgetter breakpoint builtins "
     "compile copyright credits delattr dir eval exec exit gc globals help id importlib license locals methodcaller "
@@ -181,7 +181,7 @@ class LanguageTests(unittest.TestCase):
     def test_views_are_iterated_at_once(self):
         views = {"zip", "enumerate", "reversed", "range"}
         homes = {"list", "tuple", "dict", "sorted", "sum", "any", "all", "enumerate", "zip", "min", "max", "reversed",
-                 "len"}
+                 "len", "permutations"}
         for path, text, tree in self.each():
             right = set()
             for node in ast.walk(tree):
