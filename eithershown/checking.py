@@ -1,6 +1,6 @@
 """The checker of derivations: it compares written things alone."""
 
-from eithershown.errors import BadClauses
+from eithershown.errors import BadClauses, BadDerivation
 from eithershown.fitting import is_any_clause
 from eithershown.inference import instance, replacement, resolvent, without_same
 from eithershown.kinds import bad_index, frozen, is_list
@@ -60,20 +60,22 @@ def of_nothing(rule, spot):
     return told + [(False, spot[0]), (True, spot[1])]
 
 
+def told_by_rule(rule, sources, substitutions, spot):
+    """What a rule that is not "given" tells of clauses under substitutions; None if nothing."""
+    if len(sources) == 0:
+        return of_nothing(rule, spot)
+    return of_premises(rule, [instance(clause, words) for clause, words in zip(sources, substitutions)], spot)
+
+
 def row_fault(clauses, ahead, row):
     """What is wrong with a row of right form behind the clauses of the rows ahead; None if it is right."""
     rule, premises, substitutions, spot, clause = row
-    sources = clauses if rule == "given" else ahead
+    stock = clauses if rule == "given" else ahead
     for premise in premises:
-        if premise >= len(sources):
+        if premise >= len(stock):
             return "ahead"
-    if rule == "given":
-        told = sources[premises[0]]
-    elif len(premises) == 0:
-        told = of_nothing(rule, spot)
-    else:
-        instances = [instance(sources[premise], words) for premise, words in zip(premises, substitutions)]
-        told = of_premises(rule, instances, spot)
+    sources = [stock[premise] for premise in premises]
+    told = sources[0] if rule == "given" else told_by_rule(rule, sources, substitutions, spot)
     if told is None:
         return "spot"
     return None if are_alike(told, clause) else "clause"
@@ -98,3 +100,8 @@ def derivation_fault(clauses, thing):
 
 def is_refutation(clauses, thing):
     return derivation_fault(clauses, thing) is None and len(thing) > 0 and len(thing[-1][4]) == 0
+
+
+def check_derivation(clauses, derivation):
+    if derivation_fault(clauses, derivation) is not None:
+        raise BadDerivation(derivation)

@@ -12,25 +12,32 @@ JOINERS = ("and", "or", "then", "iff")
 
 def has_places(thing, arities):
     """Whether a list begins with a name that has as many places as things follow."""
-    if not is_list(thing) or len(thing) == 0 or not isinstance(thing[0], str):
+    if not isinstance(thing, (list, tuple)) or len(thing) == 0 or not isinstance(thing[0], str):
         return False
     if arities is None:
-        return is_name(thing[0]) and len(thing) <= MOST_PLACES + 1
+        return len(thing) <= MOST_PLACES + 1 and is_name(thing[0])
     return arities.get(thing[0]) == len(thing) - 1
 
 
-def word_fits(thing, functions, scope):
-    work = [thing]
+def words_fit(words, functions, scope):
+    """Whether all things of a list are words."""
+    stood = {}
+    work = list(words)
     while work:
         part = work.pop()
-        if isinstance(part, str):
+        if not isinstance(part, str):
+            if not has_places(part, functions):
+                return False
+            work.extend(part[1:])
+        elif part not in stood:
             if not is_variable(part) or (scope is not None and part not in scope):
                 return False
-        elif has_places(part, functions):
-            work.extend(part[1:])
-        else:
-            return False
+            stood[part] = True
     return True
+
+
+def word_fits(thing, functions, scope):
+    return words_fit([thing], functions, scope)
 
 
 def is_equality(thing):
@@ -38,12 +45,7 @@ def is_equality(thing):
 
 
 def atom_fits(thing, functions, predicates, scope):
-    if not is_equality(thing) and not has_places(thing, predicates):
-        return False
-    for word in thing[1:]:
-        if not word_fits(word, functions, scope):
-            return False
-    return True
+    return (is_equality(thing) or has_places(thing, predicates)) and words_fit(thing[1:], functions, scope)
 
 
 def scope_within(part, scope):
@@ -68,18 +70,25 @@ def sentence_fits(thing, functions, predicates, scope):
     return True
 
 
-def literal_fits(thing, functions, predicates):
+def has_literal_form(thing, predicates):
+    """Whether it is a literal, if what stands behind its predicate are words."""
     return (is_pair(thing) and (thing[0] is True or thing[0] is False)
-            and atom_fits(thing[1], functions, predicates, None))
+            and (is_equality(thing[1]) or has_places(thing[1], predicates)))
+
+
+def literal_fits(thing, functions, predicates):
+    return has_literal_form(thing, predicates) and words_fit(thing[1][1:], functions, None)
 
 
 def clause_fits(thing, functions, predicates):
     if not is_list(thing):
         return False
+    words = []
     for literal in thing:
-        if not literal_fits(literal, functions, predicates):
+        if not has_literal_form(literal, predicates):
             return False
-    return True
+        words.extend(literal[1][1:])
+    return words_fit(words, functions, None)
 
 
 def is_any_word(thing):

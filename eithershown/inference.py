@@ -9,6 +9,8 @@ def without(clause, literal):
 
 
 def instance(clause, substitution):
+    if len(substitution) == 0:
+        return unlike(clause)
     return unlike([(truth, exchanged(atom, substitution)) for truth, atom in clause])
 
 

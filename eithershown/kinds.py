@@ -6,12 +6,15 @@ FIGURES = "0123456789"
 NAME_SIGNS = "abcdefghijklmnopqrstuvwxyz0123456789"
 LONGEST = 8
 MOST_PLACES = 6
-KEPT = (
-    "all", "some", "not", "and", "or", "then", "iff", "false", "axiom", "goal", "function", "predicate", "things",
-    "is", "by", "on", "of", "put", "for", "in", "at", "into", "given", "instance", "resolve", "replace", "same",
-    "alike", "either", "turned", "chained", "parts", "holds", "class", "fact", "cell", "clash", "size", "follows",
-    "fails", "open", "watch", "hold",
-)
+# The words that are no names, as the keys of a dict, so that they are found quickly.
+KEPT = {
+    "all": True, "some": True, "not": True, "and": True, "or": True, "then": True, "iff": True, "false": True,
+    "axiom": True, "goal": True, "function": True, "predicate": True, "things": True, "is": True, "by": True,
+    "on": True, "of": True, "put": True, "for": True, "in": True, "at": True, "into": True, "given": True,
+    "instance": True, "resolve": True, "replace": True, "same": True, "alike": True, "either": True, "turned": True,
+    "chained": True, "parts": True, "holds": True, "class": True, "fact": True, "cell": True, "clash": True,
+    "size": True, "follows": True, "fails": True, "open": True, "watch": True, "hold": True,
+}
 
 
 def is_integer(thing):
@@ -95,7 +98,7 @@ def frozen(thing):
             if not begun:
                 return tuple(done)
             begun[-1][1].append(tuple(done))
-        elif is_list(whole[len(done)]):
+        elif has_lists(whole[len(done)]):
             begun.append((whole[len(done)], []))
         else:
             done.append(whole[len(done)])

@@ -2,7 +2,7 @@
 
 from eithershown.exchange import frozen_substitution
 from eithershown.fitting import is_any_atom, is_any_clause, is_any_literal, is_any_substitution, is_any_word
-from eithershown.kinds import frozen, is_list, is_number
+from eithershown.kinds import frozen, is_list, is_number, unlike
 
 # How many premises each rule has.
 PREMISES = {
@@ -68,3 +68,14 @@ def frozen_row(row):
     """The row with tuples for lists in its words and literals."""
     rule, premises, substitutions, spot, clause = row
     return rule, premises, [frozen_substitution(part) for part in substitutions], frozen(spot), frozen(clause)
+
+
+def told_spot(rule, spot):
+    """A spot made of tuples as it is told: places are lists."""
+    return spot[:3] + (list(spot[3]),) if rule == "replace" else spot
+
+
+def told_row(row, premises):
+    """A row as it is told, with other premises: all new, like literals once."""
+    rule, _, substitutions, spot, clause = frozen_row(row)
+    return rule, list(premises), substitutions, told_spot(rule, spot), unlike(clause)
