@@ -3,7 +3,7 @@
 from eithershown.errors import BadEquations, BadWords, NoWord
 from eithershown.exchange import part_at, variables_in, with_part
 from eithershown.fitting import is_any_word
-from eithershown.groundset import WordNodes
+from eithershown.groundset import WordNodes, all_parts
 from eithershown.kinds import bad_index, frozen, is_list, is_pair
 from eithershown.rowforms import are_numbers
 from eithershown.writing import written
@@ -23,7 +23,7 @@ def checked_words(words):
         if not is_ground_word(word) or written(word) in stood:
             raise BadWords(index)
         stood[written(word)] = True
-        if len([part for part in word[1:] if written(part) not in texts]) > 0:
+        if len([part for part in all_parts(word) if written(part) not in texts]) > 0:
             raise BadWords(index)
     return [frozen(word) for word in words]
 

@@ -69,7 +69,7 @@ class Former:
             self.functions.append((name, len(variables)))
         spreader = Spreader(self.coiner)
         lists = spreader.lists_of(without_alls(told))
-        for name, variables, parts in spreader.rows:
+        for name, variables, parts in list(spreader.rows):
             self.rows.append(("part", name, variables, parts))
             self.predicates.append((name, len(variables)))
         for literals in lists + spreader.more:

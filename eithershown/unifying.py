@@ -6,6 +6,9 @@ from eithershown.kinds import bad_index, frozen, is_list, is_number, is_pair
 from eithershown.unionrows import paper_of
 from eithershown.unions import Union
 
+# How many numbers stand behind each reason's word.
+REASONS = {"given": 1, "turned": 1, "joined": 2, "part": 2}
+
 
 def is_word_pair(thing):
     if not is_pair(thing):
@@ -50,10 +53,6 @@ def go_together(one, other):
     return not isinstance(one, str) and not isinstance(other, str) and one[0] == other[0] and len(one) == len(other)
 
 
-# How many numbers stand behind each reason's word.
-REASONS = {"given": 1, "turned": 1, "joined": 2, "part": 2}
-
-
 def told_by_reason(pairs, ahead, reason):
     """The pair that a reason tells behind pairs of rows ahead, None if it tells nothing."""
     if not is_list(reason) or len(reason) == 0 or not isinstance(reason[0], str):
@@ -84,13 +83,14 @@ def row_pairs(pairs, rows):
         if not is_list(row) or len(row) != 3:
             return None
         pair = told_by_reason(pairs, told, row[2])
-        if pair is None or not is_word_pair(row[:2]) or frozen((row[0], row[1])) != pair:
+        if pair is None or frozen((row[0], row[1])) != pair:
             return None
         told.append(pair)
     return told
 
 
 def stands_in(variable, word):
+    """Whether a variable stands in a word; no other word counts as one that does."""
     if isinstance(word, str):
         return word == variable
     return len([part for part in word[1:] if stands_in(variable, part)]) > 0
@@ -102,9 +102,7 @@ def is_ring(told, rows):
         return False
     links = [told[at] for at in rows]
     for link, later in zip(links, links[1:] + links[:1]):
-        if not isinstance(link[0], str) or isinstance(link[1], str) or not isinstance(later[0], str):
-            return False
-        if not stands_in(later[0], link[1]):
+        if isinstance(link[1], str) or not stands_in(later[0], link[1]):
             return False
     return True
 

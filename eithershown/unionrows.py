@@ -39,7 +39,6 @@ class RowMaker:
         return self.row(one, other, reason)
 
     def row_between(self, one, other):
-        at = one
         told = None
         for label, is_forward in self.joint.forest.links_between(one, other):
             left, right, _ = self.joint.links[label]
@@ -48,7 +47,6 @@ class RowMaker:
                 row = self.row(right, left, ("turned", row))
                 right = left
             told = row if told is None else self.row(one, right, ("joined", told, row))
-            at = right
         return told
 
 

@@ -90,9 +90,8 @@ class Union:
         """A list of pairs of nodes, a variable and a word that must be one, the next one's variable in the word, the
         first one's in the last word. A ring of roots has a variable somewhere, as words are finite."""
         at = 0
-        while self.variable_of(ring[at][0]) is None:
-            at += 1
-        node = self.variable_of(ring[at][0])
+        # What is told ahead of the first variable is cut off, as the way comes back to a variable.
+        node = self.models[ring[0][0]]
         told = []
         stood = []
         while node not in stood:
@@ -104,13 +103,6 @@ class Union:
                 node = self.parts[node][ring[at][1]]
                 at = 0 if at + 1 == len(ring) else at + 1
         return told[stood.index(node):]
-
-    def variable_of(self, root):
-        """The node of the first variable of a root, None if it has none."""
-        for node in self.forest.members[root]:
-            if self.heads[node] is None:
-                return node
-        return None
 
     def why(self):
         """None if all can be one; else a pair ("clash", two nodes), or ("ring", list of pairs of nodes)."""

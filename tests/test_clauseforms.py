@@ -325,6 +325,14 @@ class FormTests(unittest.TestCase):
         self.assertEqual([row[:2] for row in form.rows()],
                          [("side", "d1"), ("side", "d2"), ("witness", "s1"), ("witness", "s2"), ("part", "d3"), ("witness", "s3"), ("witness", "s4"), ("part", "d4")])
 
+    def test_definitions_bind_all_variables(self):
+        between = ("some", "Z", both(("r", "X", "Z"), ("r", "Z", "Y")))
+        form = Form(Theory(TINY, [("a1", ("all", "X", ("all", "Y", ("iff", between, R))))]), None)
+        self.assertEqual(form.rows(), [("side", "d1", ["X", "Y"], between),
+                                       ("witness", "s1", ["V0", "V1"], "V2", both(("r", "V0", "V2"), ("r", "V2", "V1"))), ("constant", "k1")])
+        self.assertEqual(texts(form.clauses()), ["not d1(X1, X2) or r(X1, X2)", "not r(X1, X2) or d1(X1, X2)", "not d1(X1, X2) or r(X1, s1(X1, X2))",
+                                                 "not d1(X1, X2) or r(s1(X1, X2), X2)", "not r(X1, X2) or not r(X2, X3) or d1(X1, X3)", "k1 = k1"])
+
     def test_told_is_new(self):
         form = self.form(S)
         form.clauses()[0][1].append(None)

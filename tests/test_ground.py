@@ -306,6 +306,8 @@ class ClassTests(Case):
             for bad in (None, "X", (), ["a"], ("a",), f("X"), f(B), f(f(f(A))), ("not",), "a", equal(A, A)):
                 self.caught_at(BadWords, 2, lambda: ask([f(A), A, bad, None], None))
             self.caught_at(BadWords, 0, lambda: ask([f(A)], None))
+            self.caught_at(BadWords, 0, lambda: ask([f(f(A)), f(A)], None))
+            self.caught_at(BadWords, 1, lambda: ask([B, g(B, f(f(A))), f(f(A)), f(A)], None))
             for thing in (None, 5, "a", {}):
                 self.caught_at(BadEquations, 0, lambda: ask(self.WORDS, thing))
             for bad in (None, A, (A,), (A, B, C), (A, f(B)), ("X", A), (A, None)):

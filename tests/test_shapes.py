@@ -78,7 +78,7 @@ class TurnedTests(unittest.TestCase):
                 self.assertIsNone(world_fault(SMALL, told))
 
     def test_bad_turn(self):
-        for thing in (None, [], [0], [0, 0], [1, 2], [0, 1, 2], "01", {0: 1, 1: 0}, [True, 0], [0, -1], [0, None], [[0], 1], 5):
+        for thing in (None, [], [0], [0, 0], [1, 2], [0, 1, 2], "01", {0: 1, 1: 0}, [True, 0], [0, -1], [0, None], [[0], 1], 5, [0, 1, 1], (0, 1, 0)):
             with self.assertRaises(BadTurn) as caught:
                 turned(E, thing)
             self.assertIs(caught.exception.thing, thing)

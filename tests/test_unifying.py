@@ -107,6 +107,7 @@ class UnifyTests(unittest.TestCase):
     def check_kinds(self, paper):
         self.assertIsInstance(paper, tuple)
         self.assertIsInstance(paper[0], list)
+        self.assertEqual(len(paper[0]), len({row[:2] for row in paper[0]}))
         for row in paper[0]:
             self.assertIsInstance(row, tuple)
             self.assertIsInstance(row[2], tuple)
@@ -131,7 +132,8 @@ class UnifyTests(unittest.TestCase):
     def test_bad_pairs(self):
         good = ("X", A)
         for bad in (None, 5, "", "X", "XY", [], ("X",), ("X", A, A), ("X", None), (None, "X"), ("x", "X"), {"X": A},
-                    ("X", ("f", None)), (("=", "X"), "X"), (("p", EQUAL), A)):
+                    ("X", ("f", None)), (("=", "X"), "X"), (("p", EQUAL), A),
+                    (EQUAL, None), (None, EQUAL), (EQUAL, f(None)), (f(None), "X")):
             for ask in (unify, unify_paper, lambda pairs: is_unify_paper(pairs, None)):
                 with self.assertRaises(BadPairs) as caught:
                     ask([good, bad, None])
@@ -182,7 +184,7 @@ class PaperTests(unittest.TestCase):
             rows, end = paper
             for at, (one, other, reason) in enumerate(rows):
                 wrongs = [("given", 4), ("given", 5), ("given", -1), ("given", True), ("given",), ("given", 0, 0), ("turned", at),
-                          ("turned", 99), ("joined", 0, at), ("joined", 0), ("joined", 99, 0), ("joined", 0, 99), ("part", 0, 7), ("part", at, 0),
+                          ("turned", 99), ("joined", 0, at), ("joined", 0), ("joined", 99, 0), ("joined", 0, 99), ("part", 0, 7), ("part", 0, 2), ("part", at, 0),
                           ("part", 0), ("part", 0, -1), ("same", 0), (), None, "given", reason[:1]]
                 for wrong in wrongs:
                     self.assertFalse(self.is_paper((rows[:at] + [(one, other, wrong)] + rows[at + 1:], end)), wrong)
@@ -195,7 +197,7 @@ class PaperTests(unittest.TestCase):
                     ("clash",), ("ring", [2]), ("ring", []), ("ring", [0]), ("Clash", 2), None, 2):
             self.assertFalse(self.is_paper((rows, end)), end)
         rows = self.RING[0]
-        for end in (("ring", []), ("ring", [0]), ("ring", [1]), ("ring", [3]), ("ring", [5, 1]), ("ring", [1, 5]), ("ring", [5, 9]), ("ring", 5),
+        for end in (("ring", []), ("ring", [0]), ("ring", [1]), ("ring", [3]), ("ring", [5, 1]), ("ring", [1, 5]), ("ring", [5, 9]), ("ring", [6]), ("ring", [3, 4]), ("ring", [0]), ("ring", [2, 5]), ("ring", 5),
                     ("ring", [True]), ("clash", 5), ("clash", 2), ("ring", [5], 1), ("ring", [-1])):
             self.assertFalse(self.is_paper((rows, end)), end)
         self.assertTrue(self.is_paper((rows, ("ring", (5, 5)))))
