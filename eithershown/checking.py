@@ -103,5 +103,6 @@ def is_refutation(clauses, thing):
 
 
 def check_derivation(clauses, derivation):
+    """Wrong clauses are raised ahead of a wrong derivation."""
     if derivation_fault(clauses, derivation) is not None:
         raise BadDerivation(derivation)

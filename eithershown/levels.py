@@ -30,8 +30,6 @@ def from_clauses(clauses, pairs, rows):
         else:
             deriver.rows.append(told_row(row, [places[premise] for premise in row[1]]))
             places.append(len(deriver.rows) - 1)
-    if len(rows) > 0 and places[-1] != len(deriver.rows) - 1:
-        deriver.again(places[-1])
     return deriver.rows
 
 

@@ -1,7 +1,7 @@
 """Derivations with most general substitutions, of which others are instances."""
 
 from eithershown.binding import Namer
-from eithershown.checking import check_clauses, check_derivation
+from eithershown.checking import check_derivation
 from eithershown.deriving import Deriver
 from eithershown.exchange import clause_variables, exchanged, part_at
 from eithershown.inference import equality_for, instance
@@ -11,7 +11,8 @@ from eithershown.unifying import most_general
 
 
 class Shadow:
-    """The index of a new row, and the words for all variables of its clause that make it part of an old one."""
+    """The index of a new row, and the words for all variables of its clause that make it an old row's clause: of these
+    no literal is missing, so that each step of the old rows finds what it is about."""
 
     def __init__(self, index, words):
         self.index = index
@@ -96,29 +97,19 @@ class Lifter:
         return Shadow(index, {name: words[name] for name in clause_variables(self.deriver.clause(index))})
 
     def resolved(self, one, other, atom):
-        stated = one.atoms_to(self.clause(one), (True, atom))
-        if len(stated) == 0:
-            return one
-        if len(other.atoms_to(self.clause(other), (False, atom))) == 0:
-            return other
         other = self.apart(other, one.words)
+        stated = one.atoms_to(self.clause(one), (True, atom))
         pairs = alike_pairs(stated + other.atoms_to(self.clause(other), (False, atom)))
         return self.made("resolve", [one, other], pairs, lambda general: exchanged(stated[0], general))
 
     def same_gone(self, shadow, word):
         atoms = shadow.atoms_to(self.clause(shadow), (False, ("=", word, word)))
-        if len(atoms) == 0:
-            return shadow
         pairs = [(atom[1], atom[2]) for atom in atoms] + alike_pairs(atoms)
         return self.made("same", [shadow], pairs, lambda general: exchanged(atoms[0][1], general))
 
     def replaced(self, one, other, spot, equality):
         left, right, literal, place = spot
         equalities = one.atoms_to(self.clause(one), equality)
-        if len(equalities) == 0:
-            return one
-        if len(other.atoms_to(self.clause(other), literal)) == 0:
-            return other
         other = self.with_place(self.apart(other, one.words), literal, place, one.words)
         atoms = other.atoms_to(self.clause(other), literal)
         is_forward = equality[1] == ("=", left, right)
@@ -156,7 +147,6 @@ def told_shadow(shadow):
 
 
 def lifted(clauses, derivation):
-    check_clauses(clauses)
     check_derivation(clauses, derivation)
     lifter = Lifter(clauses)
     for row in derivation:

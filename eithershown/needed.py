@@ -1,6 +1,6 @@
 """What the last row of a derivation hangs on."""
 
-from eithershown.checking import check_clauses, check_derivation
+from eithershown.checking import check_derivation
 from eithershown.rowforms import told_row
 
 
@@ -30,18 +30,15 @@ def clauses_needed(derivation):
 
 
 def needed_rows(clauses, derivation):
-    check_clauses(clauses)
     check_derivation(clauses, derivation)
     return rows_needed(derivation)
 
 
 def shortened(clauses, derivation):
-    check_clauses(clauses)
     check_derivation(clauses, derivation)
     return rows_shortened(derivation)
 
 
 def needed_clauses(clauses, derivation):
-    check_clauses(clauses)
     check_derivation(clauses, derivation)
     return clauses_needed(derivation)

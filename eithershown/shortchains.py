@@ -15,7 +15,6 @@ class ShortChains:
         self.count = 0
         self.costs = {}
         self.ways = {}
-        self.partners = [{} for _ in closing.heads]
         self.links = [{} for _ in closing.heads]
         # For each pair of parts the pairs of words that wait for it, for each of these how many parts it waits for.
         self.users = {}
@@ -64,16 +63,12 @@ class ShortChains:
                 self.take(cost, pair[0], pair[1], way)
 
     def take(self, cost, one, other, way):
-        """What follows of a pair: with links behind it, with pairs ahead if it is a link, and for users of parts."""
-        is_link = len(way) == 2
+        """What follows of a pair: with links behind it, and for users of parts. The link of a way that is found last
+        needs no pairs ahead: it is a pair itself, to which all others are put."""
         for near, far in ((one, other), (other, one)):
-            self.partners[near][far] = cost
             for node in self.links[far]:
                 self.wait(cost + self.links[far][node], near, node, (near, far, node))
-            if is_link:
-                for node in self.partners[far]:
-                    self.wait(cost + self.partners[far][node], near, node, (node, far, near))
-        if is_link:
+        if len(way) == 2:
             self.links[one][other] = cost
             self.links[other][one] = cost
         for user in self.users.get((one, other), []):

@@ -127,13 +127,13 @@ class TruthSearch:
         return left, steps
 
     def learn(self, number):
-        """Goes back from a false clause to where what is resolved of it leaves no choice; whether this can be."""
+        """Goes back from a false clause to where what is resolved of it leaves no choice, if there is such a place."""
         top = max([0] + [self.level_of(literal) for literal in self.clauses[number]])
         self.go_back(top)
         left, steps = self.resolve_down(number, top)
         if top == 0:
             self.clash = self.add(list(left), ("resolved", number, steps))
-            return False
+            return
         self.weigh(list(left) + [2 * at for _, at in steps])
         literals = sorted(left, key=lambda literal: -self.level_of(literal))
         self.go_back(self.level_of(literals[1]) if len(literals) > 1 else 0)
@@ -141,7 +141,6 @@ class TruthSearch:
         if len(literals) > 1:
             self.watch(told)
         self.put_truth(literals[0], told)
-        return True
 
     def weigh(self, literals):
         """Lets atoms that clash count for what is put next, later ones more."""
@@ -226,23 +225,18 @@ class TruthSearch:
 
     def search(self):
         """Whether there are truths for all atoms; else clash is the number of an empty clause."""
+        if self.clash is not None:
+            self.learn(self.clash)
         while self.clash is None:
             number = self.go_on()
             if number is None:
                 number = self.close()
             if number is not None:
-                if not self.learn(number):
-                    return False
+                self.learn(number)
             elif len(self.trail) == len(self.weights):
                 return True
             else:
                 literal = self.next_literal()
                 self.limits.append(len(self.trail))
                 self.put_truth(literal, None)
-        self.clash_at_start()
         return False
-
-    def clash_at_start(self):
-        """Given clauses that clash by themselves: what is left of the false one goes by the reasons of its truths."""
-        left, steps = self.resolve_down(self.clash, 0)
-        self.clash = self.add(list(left), ("resolved", self.clash, steps))

@@ -593,6 +593,8 @@ class LevelTests(Case):
         self.assertEqual(self.check([yes(Q), no(Q)], 0), "clash")
         self.assertEqual(level([yes(p("X"))], 1, 2)[1], ([[("k1",)]], [("p", [0])]))
         self.assertEqual(self.check([[]], 0), "clash")
+        self.assertEqual(self.check([no(equal("X", "X"))], 0), "clash")
+        self.assertEqual(self.check([no(equal("X", "X")) + yes(Q), no(Q)], 1), "clash")
 
     def test_drawn(self):
         chance = random.Random(6)
@@ -675,7 +677,10 @@ class NeededTests(Case):
             self.assertTrue(is_needed(clauses, 1, 120, as_tuples(told)))
             more = [pair for pair in pairs if pair not in told]
             if more:
+                at = chance.randrange(len(told) + 1)
                 self.assertFalse(is_needed(clauses, 1, 120, told + [chance.choice(more)]))
+                self.assertFalse(is_needed(clauses, 1, 120, told[:at] + [chance.choice(more)] + told[at:]))
+                self.assertFalse(is_needed(clauses, 1, 120, [chance.choice(more)] + told))
 
     def test_any_object(self):
         told = needed(EXAMPLE, 1, 9)
@@ -685,7 +690,7 @@ class NeededTests(Case):
             self.assertFalse(is_needed(EXAMPLE, 1, 9, told[1:] + [(thing, {})]) and (thing != 0 or isinstance(thing, bool)))
             self.assertFalse(is_needed(EXAMPLE, 1, 9, [told[0], (1, thing)] + told[2:]))
             self.assertFalse(is_needed(EXAMPLE, 1, 9, [told[0], (1, {"X1": thing})] + told[2:]))
-        for pair in ((1, {}), (1, {"X1": B}), (1, {"X2": A}), (1, {"X1": A, "X2": A}), (1, {"X1": f(f(A))}), (3, {}), (0, {"X1": A}), (1, {"X1": A}, None)):
+        for pair in (("1", {"X1": A}), (1, {}), (1, {"X1": B}), (1, {"X2": A}), (1, {"X1": A, "X2": A}), (1, {"X1": f(f(A))}), (3, {}), (0, {"X1": A}), (1, {"X1": A}, None)):
             self.assertFalse(is_needed(EXAMPLE, 1, 9, [told[0], pair] + told[2:]), pair)
         self.assertFalse(is_needed(EXAMPLE, 0, 9, told))
         self.assertTrue(is_needed(EXAMPLE, 2, 9, told))
