@@ -1,8 +1,8 @@
 """Classes of ground words by equations, and chains from word to word."""
 
 from eithershown.errors import BadEquations, BadWords, NoWord
-from eithershown.exchange import part_at, variables_in, with_part
-from eithershown.fitting import is_any_word
+from eithershown.exchange import part_at, with_part
+from eithershown.fitting import word_fits
 from eithershown.groundset import WordNodes, all_parts
 from eithershown.kinds import bad_index, frozen, is_list, is_pair
 from eithershown.rowforms import are_numbers
@@ -10,7 +10,7 @@ from eithershown.writing import written
 
 
 def is_ground_word(thing):
-    return is_any_word(thing) and len(variables_in(thing)) == 0
+    return word_fits(thing, None, ())
 
 
 def checked_words(words):

@@ -102,7 +102,8 @@ class GrammarTests(unittest.TestCase):
             self.assertTrue(is_sentence(SMALL, right), right)
         for wrong in ("X", ("c",), ("p",), ("q", "X"), ("=", "X"), ("=", "X", ("q",)), ("not", atom, atom), ("not",),
                       ("and", atom), ("and", atom, atom, atom), ("nor", atom, atom), ("all", "x", atom),
-                      ("all", ("X",), atom), ("all", "X"), ("some", "X", "X"), ("p", ("p", "X")), (), [], None):
+                      ("all", ("X",), atom), ("all", "X"), ("some", "X", "X"), ("p", ("p", "X")), (), [], None,
+                      ("and", None, atom), ("or", atom, None), ("iff", "X", atom), ("then", ("q",), ("z",)), ("not", "X")):
             self.assertFalse(is_sentence(SMALL, wrong), wrong)
 
     def test_closed(self):

@@ -50,7 +50,7 @@ class StepTests(unittest.TestCase):
             self.assertEqual(literal_at(as_lists(literal), place), word)
         self.assertEqual(literal_at((True, equal("X", C)), [1]), C)
         self.assertIsNone(literal_at((True, Q), [0]))
-        for thing in (None, PX, (1, PX), (True, "X"), (True,), [], "", (True, PX, PX)):
+        for thing in (None, PX, (1, PX), (True, "X"), (True,), [], "", (True, PX, PX), (True, ("p", None)), (True, ("r", "X", None))):
             self.caught(BadLiteral, lambda bad: literal_at(bad, None), thing)
             self.caught(BadLiteral, lambda bad: literal_with(bad, None, None), thing)
         for thing in NO_PLACES:
