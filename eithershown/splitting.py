@@ -40,16 +40,19 @@ class TableView:
         self.homes = {written(word): at for at, lot in enumerate(lots) for word in lot}
         self.facts = {(fact[0],) + tuple(fact[1]): True for fact in facts}
 
+    def home_of(self, word):
+        return self.homes[written(word)]
+
     def row_of(self, word):
         """A word's or an atom's name, and the classes of its parts."""
-        return (word[0],) + tuple([self.homes[written(part)] for part in word[1:]])
+        return (word[0],) + tuple([self.home_of(part) for part in word[1:]])
 
     def torn(self, words):
         """The first two of ascending words that are in two classes though their parts are in the same; or None."""
         rows = [self.row_of(word) for word in words]
         for at, one in enumerate(words):
             for later in range(at + 1, len(words)):
-                if rows[later] == rows[at] and self.homes[written(words[later])] != self.homes[written(one)]:
+                if rows[later] == rows[at] and self.home_of(words[later]) != self.home_of(one):
                     return ("torn", one, words[later])
         return None
 
@@ -85,14 +88,18 @@ def table_fault(clauses, thing):
     return fault_of_table(checked_ground(clauses), thing)
 
 
+def table_with(lots, true_atoms):
+    """The table with these classes by which just these atoms, but for equalities, are true."""
+    view = TableView(lots, [])
+    facts = sorted(set([view.row_of(atom) for atom in true_atoms if atom[0] != "="]))
+    return lots, [(fact[0], list(fact[1:])) for fact in facts]
+
+
 def table_by(search):
     """The table of a search that has put all truths."""
     ground = search.ground
-    lots = lots_of(ground.words, search.closing)
-    view = TableView(lots, [])
     true_atoms = [atom for number, atom in enumerate(ground.atoms) if search.truths[2 * number] is True]
-    facts = sorted(set([view.row_of(atom) for atom in true_atoms if atom[0] != "="]))
-    return lots, [(fact[0], list(fact[1:])) for fact in facts]
+    return table_with(lots_of(ground.words, search.closing), true_atoms)
 
 
 def answer_to(clauses):

@@ -56,6 +56,16 @@ FUNCTIONS = {
     "splitting": ["table_fault(clauses, thing)", "ground_answer(clauses)"],
     "levels": ["level(clauses, depth, bound)", "least_depth(clauses, most, bound)", "needed(clauses, depth, bound)",
                "is_needed(clauses, depth, bound, thing)"],
+    "fulltables": ["table_of(clauses, depth, bound, world)", "is_full(clauses, depth, bound, table)",
+                   "world_of(clauses, depth, bound, table)"],
+    "trees": ["tree_fault(clauses, many, thing)", "tree_size(tree)"],
+    "searching": ["world_sized(clauses, many)", "least_size(clauses, most)"],
+    "bounds": ["kind_of(clauses)", "size_bound(clauses)", "one_place_bound(sentences)"],
+    "shrinking": ["cut_down(world)", "merged(world)", "twin(world, thing)"],
+    "howmany": ["how_many(clauses, many)", "world_there(clauses, many, number)"],
+    "conclusions": ["conclusions(order, one, other)", "factors(order, clause)"],
+    "loop": ["loop(order, clauses, rounds)", "saturation_fault(order, clauses)"],
+    "candidate": ["maker(order, arities, clauses, atom)", "fails_at(order, arities, clauses, weight)"],
 }
 CLASSES = {
     "signatures": {"Names(functions, predicates)": ["functions()", "predicates()", "__eq__(other)"]},
