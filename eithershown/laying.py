@@ -44,11 +44,15 @@ def form(clause):
     return least_form(unlike(checked_clause(clause)))
 
 
+def calls_apart(variables, taken):
+    """What those of the variables are called that are taken."""
+    namer = Namer(list(taken) + variables)
+    return {variable: namer.fresh() for variable in variables if variable in taken}
+
+
 def apart_from(literals, taken):
     """The literals with those of their variables that are taken called anew."""
-    variables = clause_variables(literals)
-    namer = Namer(list(taken) + variables)
-    called = {variable: namer.fresh() for variable in variables if variable in taken}
+    called = calls_apart(clause_variables(literals), taken)
     return [(is_so, exchanged(atom, called)) for is_so, atom in literals]
 
 

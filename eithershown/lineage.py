@@ -2,7 +2,7 @@
 
 from eithershown.deriving import Deriver
 from eithershown.exchange import clause_variables, exchanged
-from eithershown.laying import apart_from, laying
+from eithershown.laying import calls_apart, laying
 from eithershown.unifying import most_general
 
 
@@ -62,9 +62,8 @@ class Lineage:
 
     def resolved_row(self, deriver, homes, sources, places):
         one, other = self.forms[sources[0]], self.forms[sources[1]]
-        apart = apart_from(other, clause_variables(one))
-        found = most_general([(one[places[0]][1], apart[places[1]][1])])
-        called = dict(zip(clause_variables(other), clause_variables(apart)))
-        substitutions = [put_on(clause_variables(one), {}, found), put_on(called, called, found)]
+        called = calls_apart(clause_variables(other), clause_variables(one))
+        found = most_general([(one[places[0]][1], exchanged(other[places[1]][1], called))])
+        substitutions = [put_on(clause_variables(one), {}, found), put_on(clause_variables(other), called, found)]
         atom = exchanged(one[places[0]][1], found)
         return deriver.step("resolve", [homes[source] for source in sources], substitutions, atom)

@@ -11,6 +11,10 @@ def sized(clauses, many):
     return ("world", search.cells.world()) if tree is None else ("tree", search.told_tree(tree))
 
 
+def has_world(clauses, many):
+    return SizeSearch(clauses, many).search() is None
+
+
 def world_sized(clauses, many):
     return sized(checked_sized(clauses, many), many)
 

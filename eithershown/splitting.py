@@ -102,6 +102,11 @@ def table_by(search):
     return table_with(lots_of(ground.words, search.closing), true_atoms)
 
 
+def do_clash(clauses):
+    """Whether clauses of right form have no table."""
+    return not TruthSearch(GroundSet(clauses), clauses).search()
+
+
 def answer_to(clauses):
     """What ground_answer tells of clauses of right form."""
     search = TruthSearch(GroundSet(clauses), clauses)
