@@ -66,6 +66,14 @@ FUNCTIONS = {
     "conclusions": ["conclusions(order, one, other)", "factors(order, clause)"],
     "loop": ["loop(order, clauses, rounds)", "saturation_fault(order, clauses)"],
     "candidate": ["maker(order, arities, clauses, atom)", "fails_at(order, arities, clauses, weight)"],
+    "rewriting": ["steps_at(order, rules, word)", "last_form(order, rules, word)"],
+    "meetings": ["meetings(order, rules)", "unjoined(order, rules)"],
+    "wordchains": ["equal_by(order, rules, one, other)", "is_word_chain(equations, one, other, thing)"],
+    "completing": ["complete(order, equations, rounds)", "chains_for(order, equations, rounds)"],
+    "answers": ["answer_for(problem, depth, size, bound)", "answer_why(problem, depth, size, thing)"],
+    "answeraudits": ["audit(problem_text, answer_text, depth, size)"],
+    "lots": ["needed_names(problem, depth, bound)", "atoms_known(theory, depth, atoms, bound)"],
+    "sessiontexts": ["write_session(session)", "read_session(text)"],
 }
 CLASSES = {
     "signatures": {"Names(functions, predicates)": ["functions()", "predicates()", "__eq__(other)"]},
@@ -74,6 +82,8 @@ CLASSES = {
     "clauseforms": {"Form(theory, goal)": ["clauses()", "rows()", "names()", "with_tables(world)",
                                            "without_tables(world)", "bound()", "__eq__(other)"]},
     "orders": {"Order(rows)": ["rows()", "__eq__(other)"]},
+    "sessions": {"Session()": ["now()", "watched()", "do(deed)", "is_question(thing)", "answer(question)", "would(deed)", "count()", "deeds()",
+                               "undo()", "again()", "at(number)", "copy()", "trial(work)", "__eq__(other)"]},
 }
 
 
