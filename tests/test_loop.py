@@ -10,6 +10,7 @@ from eithershown.checking import is_refutation
 from eithershown.conclusions import conclusions, factors
 from eithershown.errors import BadArities, BadClause, BadClauses, BadNumber, BadOrder, NotGround
 from eithershown.laying import form, is_trivial, laid, named_apart
+from eithershown.lightwords import LightWords
 from eithershown.loop import loop, saturation_fault
 from eithershown.orders import Order, compare
 from eithershown.puts import put
@@ -234,6 +235,8 @@ class LoopTests(OrderedCase):
             if told[0] == "refuted":
                 self.assertEqual(plain, "refuted")
                 self.assertTrue(is_refutation(clauses, told[1]))
+                for row in told[1]:
+                    self.assertTrue(all(list(words) == sorted(words) for words in row[2]))
             else:
                 self.assertEqual(kinds(told), kinds(plain))
                 self.assertEqual(kinds(loop(ORDER, as_lists(clauses), rounds)), kinds(told))
@@ -340,6 +343,8 @@ class CandidateTests(OrderedCase):
         self.assertEqual(kinds(maker(ORDER, ARITIES, CHAIN, p(A))), kinds((0, {})))
         self.assertEqual(kinds(maker(ORDER, ARITIES, CHAIN, p(f(f(A))))), kinds((1, {"X": f(A)})))
         self.assertIsNone(maker(ORDER, ARITIES, CHAIN, p(f(B))))
+        self.assertEqual(kinds(maker(ORDER, ARITIES, [yes(r("Y", "X"))], r(A, B))), kinds((0, {"X": B, "Y": A})))
+        self.assertEqual(maker(ORDER, ARITIES, [yes(r("X", "X")) + no(p("Z"), p("Y")), yes(p(f(A)))], r(f(A), f(A)))[1]["X"], f(A))
         self.assertIsNone(maker(ORDER, ARITIES, CHAIN, Q))
         self.assertIsNone(maker(ORDER, ARITIES, [], Q))
         # Literals that become alike stay two: p(a) would stand twice; the same literal again means nothing.
@@ -375,11 +380,27 @@ class CandidateTests(OrderedCase):
         clauses = [yes(p("X")), no(r("X", "Y")) + no(p("Y")), yes(r("X", f("X")))]
         self.assertEqual(kinds(fails_at(ORDER, ARITIES, clauses, 4)), kinds((1, {"X": A, "Y": f(A)})))
         self.assertIsNone(fails_at(ORDER, ARITIES, clauses, 3))
+        # Variables ascending, wherever they stand; each of two may be the heavier one.
+        self.assertEqual(kinds(fails_at(ORDER, ARITIES, [no(r("Y", "X")), yes(r("Z", f(A)))], 4)), kinds((0, {"X": f(A), "Y": A})))
+        self.assertEqual(fails_at(ORDER, ARITIES, [no(r("X", "Y")), yes(r(f(f(A)), A))], 5), (0, {"X": f(f(A)), "Y": A}))
+        self.assertIsNone(fails_at(ORDER, ARITIES, [no(r("X", "Y")), yes(r(f(f(A)), A))], 4))
+        self.assertEqual(fails_at(ORDER, ARITIES, [no(r("X", "Y")), yes(r(A, f(f(A))))], 5), (0, {"X": A, "Y": f(f(A))}))
+        self.assertEqual(fails_at(ORDER, ARITIES, [no(r("Y", "X")), yes(r("Y", B)), yes(r(B, "Y"))], 3), (0, {"X": A, "Y": B}))
         # By the texts of words: f(b) is ahead of no letter behind it, g ahead of none.
         more = [("b", 0), ("f", 1), ("a", 0), ("g", 1)]
         self.assertEqual(fails_at(ORDER, more, [no(p("X")), yes(p(g("X"))), yes(p(f(B)))], 9)[1], {"X": f(B)})
         self.assertEqual(fails_at(ORDER, more, [no(p("X")), yes(p(g("X"))), yes(p(f(g(B))))], 3)[1], {"X": g(A)})
         self.assertEqual(fails_at(ORDER, [("a", 0), ("b", 0)], [no(r("X", "Y")), yes(r(B, "Y"))], 10 ** 9), (0, {"X": B, "Y": A}))
+
+    def test_light_words(self):
+        """All words of at most a weight, once, by their texts, of functions with several places, too."""
+        chance = random.Random(26)
+        for _ in range(40):
+            arities = [("a", 0), ("b", 0)][:chance.randrange(1, 3)] + chance.choice([[], [("f", 1)], [("g", 2)], [("k", 3)], [("j", 1), ("g", 2)]])
+            order = Order([(name, chance.choice([1, 1, 2, 3])) for name, _ in arities])
+            light = LightWords(order, chance.sample(arities, len(arities)))
+            for most in chance.sample(range(7), 4):
+                self.assertEqual(light.words_to(most), light_words(arities, order, most))
 
     def test_heavy_names(self):
         """Weights of nine figures are no work."""

@@ -7,7 +7,7 @@ import unittest
 
 from eithershown.classing import classes
 from eithershown.completing import chains_for, complete
-from eithershown.errors import BadEquations, BadNumber, BadOrder, BadRules, NotComplete
+from eithershown.errors import BadEquations, BadNumber, BadOrder, BadRules, BadWord, NotComplete
 from eithershown.meaning import value
 from eithershown.meetings import meetings, unjoined
 from eithershown.orders import Order, compare
@@ -208,6 +208,11 @@ class ChainTests(RuleCase):
                     None, [], 5, "row"):
             self.assertIs(is_word_chain(equations, h(f(C)), h(A), [bad]), False, bad)
         self.assertIs(is_word_chain(equations, h(f(C)), h(A), [row]), True)
+        self.assertIs(is_word_chain(equations, h(f(C)), h(A), [row, (2, True, [1], {}), (2, True, [0], {})]), False)
+        self.assertIs(is_word_chain(equations, h(f(C)), h(B), [row, (2, True, [0], {})]), True)
+        for bad in (None, 5, "a", (), ("a", None)):
+            self.caught(BadWord, lambda thing: is_word_chain(equations, thing, A, []), bad)
+            self.caught(BadWord, lambda thing: is_word_chain(equations, A, thing, []), bad)
         for thing in THINGS:
             if not isinstance(thing, (list, tuple)) or len(thing) > 0:
                 self.assertIs(is_word_chain(equations, A, A, thing), False, thing)
@@ -295,6 +300,17 @@ class CompletingTests(RuleCase):
         self.assertEqual(complete(ORDER, [(A, g(B, B)), (B, A)], 3), ("complete", [(B, A), (g(A, A), A)]))
         self.assertEqual(complete(ORDER, [(B, f(C)), (B, A)], 2)[1], [(B, A), (f(C), A)])
 
+    def test_all_meetings_wait(self):
+        """Those of a new rule within elder ones, and of elder ones within it."""
+        both = [(f(h("X")), A), (h(f("X")), A)]
+        stand = [(f(h("V0")), A), (h(f("V0")), A)]
+        for equations in (both, both[::-1]):
+            self.assertEqual(complete(ORDER, equations, 2), ("open", stand, [(A, f(A)), (A, h(A))]))
+            self.assertEqual(complete(ORDER, equations, 60), ("complete", [(f(A), A), stand[0], (h(A), A), stand[1]]))
+        # A rule with itself, but not at its whole.
+        self.assertEqual(complete(ORDER, [(f(f("X")), A)], 1), ("open", [(f(f("V0")), A)], [(A, f(A))]))
+        self.assertEqual(complete(ORDER, [(g("X", f(f("X"))), B)], 1), ("complete", [(g("V0", f(f("V0"))), B)]))
+
     def check(self, equations, rounds):
         kept = copy.deepcopy(equations)
         done = complete(ORDER, equations, rounds)
@@ -313,6 +329,8 @@ class CompletingTests(RuleCase):
             self.assertEqual(told(rule), rule)
             self.assertEqual(compare(ORDER, *rule), "above")
             self.assertTrue(is_word_chain(equations, rule[0], rule[1], chain), (equations, rule))
+            self.assertTrue(all(list(row[3]) == sorted(row[3]) for row in chain))
+            self.assertEqual(kinds(chain), kinds([(index, way, list(place), dict(words)) for index, way, place, words in chain]))
         if done[0] == "complete":
             self.assertEqual(len(done), 2)
             self.assertIsNone(unjoined(ORDER, done[1]))

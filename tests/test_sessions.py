@@ -6,8 +6,10 @@ import unittest
 
 from eithershown.answers import answer_for
 from eithershown.binding import same_but_names
+from eithershown.clauseforms import Form
 from eithershown.errors import (BadArity, BadDeed, BadName, BadQuestion, BadSentence, BadSession, BadText, Crowded, HasAxiom, InUse, IsWatched,
                                 NoCount, NotWatched, WouldChange)
+from eithershown.instancing import count_instances
 from eithershown.sessions import Session
 from eithershown.sessiontexts import read_session, write_session
 from eithershown.signatures import Names
@@ -34,6 +36,11 @@ def session_with(deeds):
 
 def theory_of(text):
     return read_problem(text).theory()
+
+
+def joined(sentences):
+    """All of them in one sentence."""
+    return sentences[0] if len(sentences) == 1 else ("and", sentences[0], joined(sentences[1:]))
 
 
 class SessionCase(Case):
@@ -101,6 +108,12 @@ class DeedTests(SessionCase):
         self.assertEqual([name for name, _ in session.now().axioms()], ["a", "z"])
         session.do(("forget", "b"))
         self.assertEqual(session.now().names(), Names([("c", 0)], [("p", 1)]))
+        other = session.copy()
+        for deed in (("predicate", "q", 1), ("predicate", "a", 0), ("function", "d", 1), ("forget", "q")):
+            other.do(deed)
+        self.assertEqual(other.now().names(), Names([("c", 0), ("d", 1)], [("a", 0), ("p", 1)]))
+        other.undo()
+        self.assertEqual(other.deeds()[-1], ("function", "d", 1))
         self.assertEqual(kinds(session.deeds()[3]), kinds(("axiom", "z", ("p", ("c",)))))
         self.assertEqual(session.count(), 8)
         session.do(("watch", ["alike", "a", "z"]))
@@ -151,7 +164,7 @@ class DeedTests(SessionCase):
         for bad in THINGS + (("ends", MORTAL, 0), ("ends", MORTAL, 0, 0), ("ends", MORTAL, -1, 1), ("ends", MORTAL, 0, 1, 1), ("ends", ("mortal", "X"), 0, 1), ("ends", None, 0, 1),
                              ("ends", MORTAL, True, 1), ("ends", MORTAL, 0, True), ("ends", MORTAL, None, 1), ("ends", ("men", SOC), 0, 1), ("least", MORTAL), ("least", MORTAL, -1),
                              ("least", MORTAL, 0, 1), ("least", ("all", "X", ("man", "Y")), 0), ("least", MORTAL, "0"), ("alike", "a1"), ("alike", "a1", "a3"), ("alike", "a3", "a1"),
-                             ("alike", "a1", "a2", "a1"), ("alike", RULE, RULE), ("alike", None, "a1"), ("Ends", MORTAL, 0, 1), (None, MORTAL, 0), (["ends"], MORTAL, 0, 1), "ends"):
+                             ("alike", "a1", "a2", "a1"), ("alike", RULE, RULE), ("alike", None, "a1"), ("like", "a1", "a1"), ("", "a1", "a1"), ("Ends", MORTAL, 0, 1), (None, MORTAL, 0), (["ends"], MORTAL, 0, 1), "ends"):
             self.assertIs(self.session.is_question(bad), False)
             with self.assertRaises(BadQuestion) as caught:
                 self.session.answer(bad)
@@ -239,6 +252,18 @@ class QuestionTests(SessionCase):
         with self.assertRaises(Crowded):
             answer_for(Problem(session.now(), goal), 0, 1, 500)
         self.assertEqual(session.would(("drop", "a1")), [(("ends", goal, 0, 1), "crowded", "follows"), (("least", goal, 0), "crowded", 0)])
+        # Five hundred are none too many.
+        clause = ("all", "X", ("all", "Y", ("or", ("r", "X", "Y"), ("p", "X"))))
+        grown = session_with([("function", f"c{at}", 0) for at in range(10)] + [("predicate", "p", 1), ("predicate", "r", 2)])
+        for at in range(4):
+            grown.do(("axiom", f"a{at}", ("all", "X", ("all", "Y", ("or", ("r", "X", "Y"), ("p", (f"c{at}",)))))))
+        grown.do(("axiom", "b", joined([("or", ("p", (f"c{at}",)), ("p", (f"c{at + 1}",))) for at in range(9)] + [("all", "X", ("or", ("p", "X"), ("p", (f"c{at}",)))) for at in range(9)])))
+        self.assertEqual(grown.answer(("least", ("r", ("c0",), ("c1",)), 0)), None)
+        self.assertEqual(count_instances([row[1] for row in Form(grown.now(), ("r", ("c0",), ("c1",))).clauses()], 0), 500)
+        self.assertEqual(grown.would(("axiom", "c", clause)), [])
+        grown.do(("axiom", "c", ("p", ("c0",))))
+        self.assertEqual(grown.answer(("least", ("r", ("c0",), ("c1",)), 0)), "crowded")
+        self.assertEqual(grown.answer(("ends", ("r", ("c0",), ("c1",)), 0, 1)), "crowded")
         # A depth that is crowded is so where a lesser one would be enough.
         deep = session_with([("function", "c", 0), ("function", "g", 2), ("predicate", "p", 1), ("axiom", "a1", ("all", "X", ("all", "Y", ("p", ("g", "X", "Y"))))), ("axiom", "a2", ("p", ("c",)))])
         self.assertEqual([deep.answer(("least", ("p", ("c",)), depth)) for depth in (0, 1, 2, 3)], [0, 0, 0, "crowded"])

@@ -116,7 +116,7 @@ class TreeTests(SizedCase):
         for bad, why in (
                 (None, "form"), ((), "form"), ("clash", "form"), (("clash",), "form"), (("clash", 0), "form"),
                 (("clash", 0, {}, 0), "form"), (("cell", "f", [0]), "form"), (("cell", "f", [0], [LEAF], 0), "form"),
-                (("cell", "f", 0, [LEAF]), "form"), (("cell", "f", [0], {}), "form"), (("size", 0, {}), "form"), ((["clash"], 0, {}), "form"),
+                (("cell", "f", 0, [LEAF]), "form"), (("cell", "f", [0], {}), "form"), (("size", 0, {}), "form"), ((["clash"], 0, {}), "form"), (("size", "f", [0], [LEAF]), "form"),
                 (("cell", "h", [0], [LEAF]), "cell"), (("cell", None, [0], [LEAF]), "cell"), (("cell", ["f"], [0], [LEAF]), "cell"),
                 (("cell", "f", [], [LEAF]), "cell"), (("cell", "f", [0, 0], [LEAF]), "cell"), (("cell", "f", [1], [LEAF]), "cell"),
                 (("cell", "f", [False], [LEAF]), "cell"), (("cell", "f", [-1], [LEAF]), "cell"), (("cell", "f", ["0"], [LEAF]), "cell"),
@@ -124,7 +124,7 @@ class TreeTests(SizedCase):
                 (("cell", "f", [0], []), "branches"), (("cell", "f", [0], [LEAF, LEAF]), "branches"),
                 (("clash", 2, {}), "clause"), (("clash", -1, {}), "clause"), (("clash", True, {}), "clause"), (("clash", None, {}), "clause"),
                 (("clash", 1, {}), "clause"), (("clash", 1, {"X": 1}), "clause"), (("clash", 1, {"X": False}), "clause"),
-                (("clash", 1, {"X": 0, "Y": 0}), "clause"), (("clash", 1, {"Y": 0}), "clause"), (("clash", 1, [("X", 0)]), "clause"),
+                (("clash", 1, {"X": 0, "Y": 0}), "clause"), (("clash", 1, {"Y": 0}), "clause"), (("clash", 1, [("X", 0)]), "clause"), (("clash", 1, ["X"]), "clause"), (("clash", 1, "X"), "clause"), (("clash", 1, None), "clause"),
                 (("clash", 0, {"X": 0}), "clause"), (("clash", 1, {"X": [0]}), "clause"),
                 (LEAF, "untold"), (("clash", 0, {}), "true")):
             self.assertEqual(kinds(tree_fault(EXAMPLE, 1, inside(bad))), kinds(([0, 1], why)), bad)
@@ -162,6 +162,8 @@ class TreeTests(SizedCase):
         # True is no thing: behind a predicate's cell without places no thing stands on the way.
         more = clauses + [yes(Q)]
         self.assertIsNone(tree_fault(more, 5, ("cell", "q", [], [end, ("cell", "a", [], [end])])))
+        # Rows of functions' cells count, whatever their values are.
+        self.assertIsNone(tree_fault(clauses, 5, ("cell", "f", [2], [("cell", "a", [], [end] * 4), end, end, end])))
         # Values on the way count, those of other trees do not.
         two = ("cell", "a", [], [("cell", "b", [], [end, ("cell", "f", [0], [end] * 3)])])
         self.assertIsNone(tree_fault(clauses, 5, two))
@@ -372,7 +374,7 @@ class BoundTests(SizedCase):
     def test_one_place_bound(self):
         x_is_p, q_of_c = ("some", "X", ("p", "X")), ("q", C)
         for sentences, bound in (([], 1), ([x_is_p], 2), ([x_is_p, q_of_c], 4), ([x_is_p, ("not", x_is_p), ("r",)], 4), ([("all", "X", ("and", ("p", "X"), ("r",)))], 4),
-                                 ([("all", "X", ("=", "X", "X"))], None), ([x_is_p, ("p", f(C))], None), ([("s", C, C)], None),
+                                 ([("all", "X", ("=", "X", "X"))], None), ([("=", C, C), x_is_p], None), ([("and", x_is_p, ("=", C, C)), x_is_p], None), ([x_is_p, ("p", f(C))], None), ([("s", C, C)], None),
                                  ([x_is_p, ("iff", ("s", C, C), ("s", C, C))], None), ([("then", ("a1",), ("or", ("a2",), ("a3",)))], 8)):
             self.assertEqual(one_place_bound(sentences), bound)
             self.assertEqual(one_place_bound(as_lists(sentences)), bound)
