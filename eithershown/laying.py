@@ -19,6 +19,23 @@ def called_on(literal, called):
     return (literal[0], exchanged(literal[1], now)), now
 
 
+def unlike_choices(left, called):
+    """The triples (literal, as it is called, all that are called by it) of what can be put next. Of literals that are
+    called alike, and whose new variables stand in no other one, the first is enough: the others go on alike."""
+    told = []
+    stood = {}
+    for literal in left:
+        named, now = called_on(literal, called)
+        others = clause_variables([other for other in left if other != literal])
+        is_alone = len([variable for variable in now if variable not in called and variable in others]) == 0
+        text = literal_text(named)
+        if not is_alone or text not in stood:
+            told.append((literal, named, now))
+        if is_alone:
+            stood[text] = True
+    return told
+
+
 def least_form(literals):
     """The form of unlike literals: they are put one by one, all ways on with the least text being kept."""
     states = [([], literals, {})]
@@ -28,8 +45,7 @@ def least_form(literals):
         least = None
         found = []
         for told, left, called in states:
-            for literal in left:
-                named, now = called_on(literal, called)
+            for literal, named, now in unlike_choices(left, called):
                 text = literal_text(named) + behind
                 if least is None or text < least:
                     least = text
