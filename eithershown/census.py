@@ -10,7 +10,7 @@ class Census:
     def __init__(self, clauses, many):
         self.cells = Cells(clauses, many)
         self.waiting = [[] for _ in self.cells.places]
-        self.marks = []
+        self.moves = []
         self.failed = 0
         self.still_open = 0
         self.products = [1]
@@ -33,7 +33,7 @@ class Census:
 
     def put(self, worth):
         """Puts the next cell."""
-        cell = len(self.marks)
+        cell = len(self.moves)
         self.cells.worths[cell] = worth
         failed = self.failed
         homes = []
@@ -41,12 +41,12 @@ class Census:
             if self.failed == failed:
                 homes.append(self.place(instance))
         self.still_open = self.still_open - len(self.waiting[cell])
-        self.marks.append([home for home in homes if home is not None])
+        self.moves.append([home for home in homes if home is not None])
 
     def take_back(self):
         """Takes the last cell back."""
-        homes = self.marks.pop()
-        cell = len(self.marks)
+        homes = self.moves.pop()
+        cell = len(self.moves)
         self.cells.worths[cell] = None
         for home in homes:
             self.waiting[home].pop()
@@ -57,7 +57,7 @@ class Census:
         """How many worlds there are by what is put."""
         if self.failed > 0:
             return 0
-        cell = len(self.marks)
+        cell = len(self.moves)
         if self.still_open == 0:
             return self.products[-1 - cell]
         total = 0

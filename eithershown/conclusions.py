@@ -27,7 +27,7 @@ def greatest_at(order, clause, truth):
     """The indexes of the literals of this truth above whose atom no atom of the clause is."""
     told = []
     for index, (is_so, atom) in enumerate(clause):
-        if is_so is truth and len([other for _, other in clause if is_above(order, other, atom)]) == 0:
+        if is_so == truth and len([other for _, other in clause if is_above(order, other, atom)]) == 0:
             told.append(index)
     return told
 

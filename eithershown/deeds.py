@@ -77,12 +77,12 @@ def state_behind(state, deed):
     elif word == "free":
         later = state.without(deed[1])
     elif word == "axiom":
-        later = state.moved(with_axiom(state.theory, deed[1], deed[2]), False)
+        later = state.moved(with_axiom(state.basis, deed[1], deed[2]), False)
     elif word == "drop":
-        later = state.moved(without_axiom(state.theory, deed[1]), False)
+        later = state.moved(without_axiom(state.basis, deed[1]), False)
     elif word == "forget":
         # Names in no axiom change no answer.
-        later = state.moved(without_name(state.theory, deed[1]), True)
+        later = state.moved(without_name(state.basis, deed[1]), True)
     else:
-        later = state.moved(with_name(state.theory, word, deed[1], deed[2]), True)
+        later = state.moved(with_name(state.basis, word, deed[1], deed[2]), True)
     return later, frozen(deed)

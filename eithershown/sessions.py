@@ -21,10 +21,10 @@ class Session:
         return self._states[self._place]
 
     def now(self):
-        return self.state().theory
+        return self.state().basis
 
     def watched(self):
-        return list(self.state().watched)
+        return list(self.state().asked)
 
     def do(self, deed):
         later, told = state_behind(self.state(), deed)

@@ -54,6 +54,29 @@ class LanguageTests(unittest.TestCase):
             if path.name != "__pycache__":
                 self.assertRegex(path.name, r"^[a-z_][a-z0-9_]*\.py$")
 
+    def test_is_with_three_values_alone(self):
+        for path, _, tree in self.each():
+            for node in ast.walk(tree):
+                if isinstance(node, ast.Compare):
+                    for sign, other in zip(node.ops, node.comparators):
+                        if isinstance(sign, (ast.Is, ast.IsNot)):
+                            self.assertTrue(isinstance(other, ast.Constant) and other.value in (None, True, False), (path, node.lineno))
+
+    def test_methods_and_attributes(self):
+        """No name is a method and an attribute of one class; no comparison reads one that is both in any classes."""
+        methods, attributes, compared = {}, {}, set()
+        for _, _, tree in self.each():
+            for node in ast.walk(tree):
+                if isinstance(node, ast.ClassDef):
+                    methods.setdefault(node.name, set()).update(part.name for part in node.body if isinstance(part, ast.FunctionDef))
+                    stored = {part.attr for part in ast.walk(node) if isinstance(part, ast.Attribute) and isinstance(part.ctx, ast.Store)}
+                    attributes.setdefault(node.name, set()).update(stored)
+                if isinstance(node, ast.FunctionDef) and node.name == "__eq__":
+                    compared.update(part.attr for part in ast.walk(node) if isinstance(part, ast.Attribute))
+        for name in methods:
+            self.assertFalse(methods[name] & attributes[name], name)
+        self.assertFalse(compared & set().union(*methods.values()) & set().union(*attributes.values()))
+
     def test_sizes_and_signs(self):
         for path, text, tree in self.each():
             lines = text.split("\n")
