@@ -12,13 +12,14 @@ from eithershown.errors import BadArities, BadClause, BadClauses, BadNumber, Bad
 from eithershown.laying import form, is_trivial, laid, named_apart
 from eithershown.lightwords import LightWords
 from eithershown.loop import loop, saturation_fault
+from eithershown.meaning import false_giving
 from eithershown.orders import Order, compare
 from eithershown.puts import put
 from eithershown.signatures import Names
 from eithershown.unifying import unify
 from eithershown.words import variables_of
 from eithershown.writing import clause_text, written
-from tests.making import THINGS, as_lists, as_tuples, kinds, some_literal
+from tests.making import THINGS, as_lists, as_tuples, kinds, some_literal, some_world
 from tests.test_ground import A, B, Q, Case, equal, f, g, no, p, yes
 
 ORDER = Order([("a", 1), ("b", 1), ("f", 1), ("g", 1), ("q", 1), ("p", 1), ("r", 1)])
@@ -244,6 +245,24 @@ class LoopTests(OrderedCase):
                 self.assertIsNone(saturation_fault(ORDER, told[1]))
                 self.assertIsNone(fails_at(ORDER, ARITIES, told[1], 5))
         self.assertGreater(min(met.get(word, 0) for word in ("refuted", "saturated", "open")), 10)
+
+    def test_what_is_kept_is_worth_as_much(self):
+        """In each world in which all that is kept in the end holds all clauses hold, and the other way about."""
+        chance = random.Random(27)
+        met = [0, 0]
+        for _ in range(400):
+            clauses = [drawn_clause(chance, 3) for _ in range(chance.randrange(1, 5))]
+            told = loop(ORDER, clauses, 12)
+            if told[0] == "refuted":
+                continue
+            for _ in range(6):
+                world = some_world(chance, NAMES, chance.randrange(1, 3))
+                given = all(false_giving(world, clause) is None for clause in clauses)
+                kept = all(false_giving(world, clause) is None for clause in told[1])
+                self.assertTrue(kept or not given)
+                self.assertTrue(given or not kept or told[0] == "open")
+                met[given] += 1
+        self.assertGreater(min(met), 50)
 
     def test_saturation_fault(self):
         self.assertIsNone(saturation_fault(ORDER, []))

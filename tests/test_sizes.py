@@ -247,6 +247,7 @@ class SearchTests(SizedCase):
         self.assertEqual(world_sized([[]], 3), ("tree", ("clash", 0, {})))
         self.assertEqual(world_sized([yes(Q), []], 1), ("tree", ("clash", 1, {})))
         self.assertEqual(kinds(world_sized([yes(equal("X", "Y"))], 2)), kinds(("tree", ("clash", 0, {"X": 0, "Y": 1}))))
+        self.assertEqual(kinds(world_sized([yes(equal("Y", "X"))], 2)), kinds(("tree", ("clash", 0, {"X": 0, "Y": 1}))))
         self.assertEqual(world_sized([yes(equal("X", "Y"))], 1), ("world", (1, {}, {})))
         self.assertEqual(world_sized([yes(equal("X", C)), no(p(C)) + yes(p(("d",)))], 1)[0], "world")
         self.assertEqual(least_size([yes(equal("X", C)), no(p(C)) + yes(p(("d",)))], 5)[:2], ("world", 1))
