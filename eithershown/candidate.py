@@ -2,6 +2,7 @@
 
 from eithershown.conclusions import put_in_literals
 from eithershown.errors import BadArities, BadNumber, NotGround
+from eithershown.exchange import clause_variables, variables_in
 from eithershown.fitting import atom_fits, is_equality
 from eithershown.kinds import bad_pair, frozen, is_arity, is_list, is_number
 from eithershown.loop import checked_ordered_clauses
@@ -42,12 +43,29 @@ def maker(order, arities, clauses, atom):
     return making.maker(frozen(atom))
 
 
+def first_failing(making, clause, found, weight):
+    """The first way on from what is found, by words' texts, variables ascending, by which a clause fails and no atom
+    weighs more than is told; None if there is none. found tells of the first variables alone."""
+    literals = put_in_literals(clause, found)
+    if making.holds_by_made([literal for literal in literals if len(variables_in(literal[1])) == 0]):
+        return None
+    variables = sorted(clause_variables(literals))
+    if len(variables) == 0:
+        return found
+    for word in making.light.choices(clause, found, variables[0], weight):
+        told = first_failing(making, clause, {**found, variables[0]: word}, weight)
+        if told is not None:
+            return told
+    return None
+
+
 def fails_at(order, arities, clauses, weight):
     making = checked_making(order, arities, clauses)
     if not is_number(weight):
         raise BadNumber(weight)
     for index, clause in enumerate(making.clauses):
-        for words in making.light.substitutions(clause, {}, weight):
-            if not making.holds_by_made(put_in_literals(clause, words)):
-                return (index, {variable: words[variable] for variable in sorted(words)})
+        if making.light.is_light(clause, {}, weight):
+            words = first_failing(making, clause, {}, weight)
+            if words is not None:
+                return (index, words)
     return None

@@ -74,11 +74,13 @@ class LightWords:
         rooms = [self.room(atom, found, variable, most) for _, atom in clause]
         return self.words_to(max(0, min([room for room in rooms if room is not None])))
 
+    def is_light(self, clause, found, most):
+        """Whether no atom weighs more than is told where all variables for which nothing is found weigh one."""
+        return max([0] + [weigh(self.order, exchanged(atom, found), {}) for _, atom in clause]) <= most
+
     def substitutions(self, clause, found, most):
-        """All ways on from what is found, by which no atom weighs more than is told: by their words' texts, variables
-        ascending."""
-        weights = [weigh(self.order, exchanged(atom, found), {}) for _, atom in clause]
-        told = [found] if max([0] + weights) <= most else []
+        """All ways on from what is found, by which no atom weighs more than is told."""
+        told = [found] if self.is_light(clause, found, most) else []
         for variable in sorted(clause_variables(clause)):
             if variable not in found:
                 told = [{**ahead, variable: word} for ahead in told
