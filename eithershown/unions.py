@@ -35,7 +35,9 @@ class Union:
             return node
         self.heads.append((word[0], len(word)))
         self.parts.append([])
-        self.parts[node] = [self.node_of(part) for part in word[1:]]
+        for part in word[1:]:
+            below = self.node_of(part)
+            self.parts[node].append(below)
         return node
 
     def join_all(self, waiting):
