@@ -67,7 +67,8 @@ def world_of(clauses, depth, bound, table):
     functions = {name: {} for name, _ in symbols_in(told)}
     for word in view.words:
         functions[word[0]][view.row_of(word)[1:]] = view.home_of(word)
-    predicates = {name: [] for name in names_of(told).predicates}
+    names = names_of(told)
+    predicates = {name: [] for name in names.predicates}
     for fact in view.facts:
         predicates[fact[0]].append(fact[1:])
     return told_world((len(table[0]), functions, predicates))
